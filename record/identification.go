@@ -4,6 +4,7 @@ import (
 	"strconv"
 
 	"glideslope/api"
+	"glideslope/common"
 )
 
 // The spans of an identification, in dots.
@@ -35,7 +36,7 @@ func letters() map[string]string {
 
 // checkWord returns the first error of a word, or OK.
 func checkWord(s string) api.Errno {
-	e := first(failed(s == "", api.ErrEmpty), failed(len(s) > MaxWord, api.ErrLong))
+	e := common.First(common.Failed(s == "", api.ErrEmpty), common.Failed(len(s) > MaxWord, api.ErrLong))
 	if e != api.OK {
 		return e
 	}
@@ -49,7 +50,7 @@ func checkWord(s string) api.Errno {
 
 // Keyed returns the samples of an identification.
 func Keyed(word string, dot int) ([]float32, api.Errno) {
-	if e := first(checkWord(word), between(dot, 1, MaxDot)); e != api.OK {
+	if e := common.First(checkWord(word), common.Between(dot, 1, MaxDot)); e != api.OK {
 		return nil, e
 	}
 	var l []float32
@@ -95,7 +96,7 @@ type hearing struct {
 
 // Heard returns the words that are heard in samples.
 func Heard(l []float32, dot int) ([]string, api.Errno) {
-	if e := first(CheckSamples(l), between(dot, 1, MaxDot)); e != api.OK {
+	if e := common.First(CheckSamples(l), common.Between(dot, 1, MaxDot)); e != api.OK {
 		return nil, e
 	}
 	h := hearing{letters: letters()}

@@ -4,6 +4,7 @@ import (
 	"math"
 
 	"glideslope/api"
+	"glideslope/common"
 )
 
 // powers has the powers of -i from 0 to 3.
@@ -30,7 +31,7 @@ func isDigit(b byte) bool { return b >= '0' && b <= '9' }
 
 // Draw returns the permutation of n elements by a number.
 func Draw(number, n int) ([]int, api.Errno) {
-	if e := first(between(number, 0, api.MaxNumber), between(n, 0, api.MaxList)); e != api.OK {
+	if e := common.First(common.Between(number, 0, api.MaxNumber), common.Between(n, 0, api.MaxList)); e != api.OK {
 		return nil, e
 	}
 	l := make([]int, n)
@@ -48,25 +49,17 @@ func Draw(number, n int) ([]int, api.Errno) {
 
 // CheckRatio returns the first error of a ratio, or OK.
 func CheckRatio(x api.Ratio) api.Errno {
-	if e := first(between(x.Num, -api.MaxNumber, api.MaxNumber), between(x.Den, 1, api.MaxNumber)); e != api.OK {
+	if e := common.First(common.Between(x.Num, -api.MaxNumber, api.MaxNumber), common.Between(x.Den, 1, api.MaxNumber)); e != api.OK {
 		return e
 	}
-	return failed(divisor(x.Num, x.Den) != 1, api.ErrForm)
-}
-
-// divisor returns the greatest common divisor of two numbers; that of 0 and another one is the other one.
-func divisor(a, b int) int {
-	for b != 0 {
-		a, b = b, a%b
-	}
-	return max(a, -a)
+	return common.Failed(common.Divisor(x.Num, x.Den) != 1, api.ErrForm)
 }
 
 // CheckSample returns the first error of a sample, or OK.
 func CheckSample(x float32) api.Errno {
-	return first(
-		failed(!isFinite(x), api.ErrForm),
-		failed(!isStepped(x, api.MaxValue), api.ErrRange))
+	return common.First(
+		common.Failed(!isFinite(x), api.ErrForm),
+		common.Failed(!isStepped(x, api.MaxValue), api.ErrRange))
 }
 
 func isFinite(x float32) bool {
@@ -86,10 +79,7 @@ func sampleOf(n int) float32 { return float32(n) / 16 }
 
 // CheckSamples returns the first error of samples, or OK.
 func CheckSamples(l []float32) api.Errno {
-	if len(l) > api.MaxSamples {
-		return api.ErrMany
-	}
-	return first(mapped(l, CheckSample)...)
+	return common.CheckList(l, api.MaxSamples, CheckSample)
 }
 
 // Four returns the transform of four samples.
@@ -133,11 +123,11 @@ func Unfour(p [4]complex64) ([4]float32, api.Errno) {
 
 // checkPanel returns the first error of a panel, or OK: one that is no number anywhere comes before any range.
 func checkPanel(p [4]complex64) api.Errno {
-	finite := mapped(p[:], func(x complex64) api.Errno {
-		return failed(!isFinite(real(x)) || !isFinite(imag(x)), api.ErrForm)
+	finite := common.Mapped(p[:], func(x complex64) api.Errno {
+		return common.Failed(!isFinite(real(x)) || !isFinite(imag(x)), api.ErrForm)
 	})
-	inRange := mapped(p[:], func(x complex64) api.Errno {
-		return failed(!isStepped(real(x), 4*api.MaxValue) || !isStepped(imag(x), 4*api.MaxValue), api.ErrRange)
+	inRange := common.Mapped(p[:], func(x complex64) api.Errno {
+		return common.Failed(!isStepped(real(x), 4*api.MaxValue) || !isStepped(imag(x), 4*api.MaxValue), api.ErrRange)
 	})
-	return first(first(finite...), first(inRange...))
+	return common.First(common.First(finite...), common.First(inRange...))
 }

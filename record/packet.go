@@ -4,6 +4,7 @@ import (
 	"iter"
 
 	"glideslope/api"
+	"glideslope/common"
 )
 
 const (
@@ -42,12 +43,12 @@ func isSealed(key api.Key, s []byte) bool {
 
 // checkPacket returns the first error of a packet, or OK.
 func checkPacket(p Packet) api.Errno {
-	return first(
-		between(p.Station, 0, maxStation),
-		between(p.Counter, 0, MaxCounter),
-		between(p.Length, 0, Values),
+	return common.First(
+		common.Between(p.Station, 0, maxStation),
+		common.Between(p.Counter, 0, MaxCounter),
+		common.Between(p.Length, 0, Values),
 		CheckSamples(p.Samples[:]),
-		failed(p != trimmed(p), api.ErrForm))
+		common.Failed(p != trimmed(p), api.ErrForm))
 }
 
 // trimmed returns a packet with 0 for each sample from its length on.
@@ -135,7 +136,7 @@ func Received(key api.Key, s []byte) ([]Packet, []api.Span, api.Errno) {
 			i += Size
 			continue
 		}
-		skipped = widened(skipped, i)
+		skipped = common.Widened(skipped, i)
 		i++
 	}
 	return packets, skipped, api.OK
@@ -159,12 +160,12 @@ type placed struct {
 
 // Assembled returns the samples of a station's packets, and the spans of samples that are missing.
 func Assembled(l []Packet, station, n int) ([]float32, []api.Span, api.Errno) {
-	if e := first(checkPackets(l), between(station, 0, maxStation), between(n, 0, api.MaxSamples)); e != api.OK {
+	if e := common.First(common.CheckList(l, MaxPackets, checkPacket), common.Between(station, 0, maxStation), common.Between(n, 0, api.MaxSamples)); e != api.OK {
 		return nil, nil, e
 	}
 	samples := make([]float32, n)
 	there := make([]bool, n)
-	for _, p := range mapped(l, func(p Packet) placed { return placed{p, Values * p.Counter} }) {
+	for _, p := range common.Mapped(l, func(p Packet) placed { return placed{p, Values * p.Counter} }) {
 		if p.Station != station {
 			continue
 		}
@@ -174,18 +175,6 @@ func Assembled(l []Packet, station, n int) ([]float32, []api.Span, api.Errno) {
 			}
 		}
 	}
-	var missing []api.Span
-	for i, is := range there {
-		if !is {
-			missing = widened(missing, i)
-		}
-	}
+	missing := common.SpansWhere(there, func(is bool) bool { return !is })
 	return samples, missing, api.OK
-}
-
-func checkPackets(l []Packet) api.Errno {
-	if len(l) > MaxPackets {
-		return api.ErrMany
-	}
-	return first(mapped(l, checkPacket)...)
 }

@@ -1,8 +1,6 @@
 // Package record has names, ratios and samples, packets, recordings with marks, identifications, and streams. See shared/doc/01-record.md.
 package record
 
-import "glideslope/api"
-
 // Limits of packets, recordings, marks, shifts and identifications.
 const (
 	Values     = 8
@@ -38,45 +36,4 @@ type Recording struct {
 	Step    int
 	Samples []float32
 	Marks   []Marker
-}
-
-// first returns the first error that is not OK, or OK.
-func first(l ...api.Errno) api.Errno {
-	for _, e := range l {
-		if e != api.OK {
-			return e
-		}
-	}
-	return api.OK
-}
-
-// failed returns an error if there is one, or OK.
-func failed(wrong bool, e api.Errno) api.Errno {
-	if wrong {
-		return e
-	}
-	return api.OK
-}
-
-// between returns ErrRange if a number is not from low to high, or OK.
-func between(n, low, high int) api.Errno {
-	return failed(n < low || n > high, api.ErrRange)
-}
-
-// mapped returns what a function makes of each element of a list.
-func mapped[A, B any](l []A, f func(A) B) []B {
-	out := make([]B, len(l))
-	for i, x := range l {
-		out[i] = f(x)
-	}
-	return out
-}
-
-// widened returns ascending spans with one index more at their end; spans that touch are one span.
-func widened(l []api.Span, i int) []api.Span {
-	if n := len(l); n > 0 && l[n-1].To == i {
-		l[n-1].To++
-		return l
-	}
-	return append(l, api.Span{From: i, To: i + 1})
 }

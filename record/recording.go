@@ -1,6 +1,9 @@
 package record
 
-import "glideslope/api"
+import (
+	"glideslope/api"
+	"glideslope/common"
+)
 
 // after reports whether a mark has a greater index than another one.
 func (m Marker) after(o Marker) bool { return m.Index > o.Index }
@@ -11,11 +14,11 @@ func (r Recording) tick(i int) int { return r.Start + i*r.Step }
 // CheckRecording returns the first error of a recording, or OK.
 func CheckRecording(r Recording) api.Errno {
 	n := len(r.Samples)
-	return first(
-		between(r.Start, 0, api.MaxTick),
-		between(r.Step, 1, MaxStep),
+	return common.First(
+		common.Between(r.Start, 0, api.MaxTick),
+		common.Between(r.Step, 1, MaxStep),
 		CheckSamples(r.Samples),
-		failed(n > 0 && r.tick(n-1) > api.MaxTick, api.ErrLarge),
+		common.Failed(n > 0 && r.tick(n-1) > api.MaxTick, api.ErrLarge),
 		checkMarks(r.Marks, n))
 }
 
@@ -26,10 +29,10 @@ func checkMarks(l []Marker, n int) api.Errno {
 	}
 	after := Marker.after
 	for i, m := range l {
-		e := first(
-			failed(m.Index < 0 || m.Index >= n, api.ErrUnknown),
-			failed(!IsName(m.Name), api.ErrName),
-			failed(i > 0 && !after(m, l[i-1]), api.ErrOrder))
+		e := common.First(
+			common.Failed(m.Index < 0 || m.Index >= n, api.ErrUnknown),
+			common.Failed(!IsName(m.Name), api.ErrName),
+			common.Failed(i > 0 && !after(m, l[i-1]), api.ErrOrder))
 		if e != api.OK {
 			return e
 		}
@@ -39,10 +42,10 @@ func checkMarks(l []Marker, n int) api.Errno {
 
 // Cut returns a part of a recording.
 func Cut(r Recording, s api.Span) (Recording, api.Errno) {
-	e := first(
+	e := common.First(
 		CheckRecording(r),
-		failed(s.From < 0 || s.To < s.From || s.To > len(r.Samples), api.ErrSpan),
-		failed(r.tick(s.From) > api.MaxTick, api.ErrRange))
+		common.Failed(s.From < 0 || s.To < s.From || s.To > len(r.Samples), api.ErrSpan),
+		common.Failed(r.tick(s.From) > api.MaxTick, api.ErrRange))
 	if e != api.OK {
 		return Recording{}, e
 	}
@@ -58,18 +61,18 @@ func Cut(r Recording, s api.Span) (Recording, api.Errno) {
 
 // moved returns marks whose indices are greater by a number.
 func moved(l []Marker, by int) []Marker {
-	return mapped(l, func(m Marker) Marker { return Marker{m.Index + by, m.Name} })
+	return common.Mapped(l, func(m Marker) Marker { return Marker{m.Index + by, m.Name} })
 }
 
 // Joined returns a recording and the one that follows it as one.
 func Joined(a, b Recording) (Recording, api.Errno) {
-	e := first(
+	e := common.First(
 		CheckRecording(a),
 		CheckRecording(b),
-		failed(a.Step != b.Step, api.ErrShape),
-		failed(b.Start != a.tick(len(a.Samples)), api.ErrOrder),
-		failed(len(a.Samples)+len(b.Samples) > api.MaxSamples, api.ErrMany),
-		failed(len(a.Marks)+len(b.Marks) > MaxMarks, api.ErrMany))
+		common.Failed(a.Step != b.Step, api.ErrShape),
+		common.Failed(b.Start != a.tick(len(a.Samples)), api.ErrOrder),
+		common.Failed(len(a.Samples)+len(b.Samples) > api.MaxSamples, api.ErrMany),
+		common.Failed(len(a.Marks)+len(b.Marks) > MaxMarks, api.ErrMany))
 	if e != api.OK {
 		return Recording{}, e
 	}
@@ -82,11 +85,11 @@ func Joined(a, b Recording) (Recording, api.Errno) {
 
 // Aligned returns the shift by which two lists of samples differ least, and how much.
 func Aligned(a, b []float32, reach, least int) (int, api.Ratio, api.Errno) {
-	e := first(CheckSamples(a), CheckSamples(b), between(reach, 0, MaxReach), between(least, 1, api.MaxSamples))
+	e := common.First(CheckSamples(a), CheckSamples(b), common.Between(reach, 0, MaxReach), common.Between(least, 1, api.MaxSamples))
 	if e != api.OK {
 		return 0, api.Ratio{}, e
 	}
-	x, y := mapped(a, unitOf), mapped(b, unitOf)
+	x, y := common.Mapped(a, unitOf), common.Mapped(b, unitOf)
 	best, shift := api.Ratio{}, 0
 search:
 	for s := -reach; s <= reach; s++ {
@@ -114,8 +117,7 @@ func difference(x, y []int) api.Ratio {
 	for i := range len(x) {
 		sum += max(x[i]-y[i], y[i]-x[i])
 	}
-	by := divisor(sum, len(x))
-	return api.Ratio{Num: sum / by, Den: len(x) / by}
+	return common.Ratio(sum, len(x))
 }
 
 func isLess(x, y api.Ratio) bool {

@@ -124,6 +124,8 @@ func TestCutErrors(t *testing.T) {
 	same(t, "Cut after the last tick", all(r, e), all(record.Recording{}, api.ErrRange))
 	r, e = record.Cut(late, span(3, 3))
 	same(t, "Cut at the last tick", all(r, e), all(record.Recording{Start: 100000000, Step: 10}, api.OK))
+	r, e = record.Cut(late, span(0, 4))
+	same(t, "Cut of all up to the last tick", all(r, e), all(late, api.OK))
 	exact := changed(func(r *record.Recording) { r.Start = 99999960 })
 	r, e = record.Cut(exact, span(4, 4))
 	same(t, "Cut up to the last tick", all(r, e), all(record.Recording{Start: 100000000, Step: 10}, api.OK))

@@ -1,6 +1,9 @@
 package record
 
-import "glideslope/api"
+import (
+	"glideslope/api"
+	"glideslope/common"
+)
 
 const (
 	streamMark = "GLS1"
@@ -15,11 +18,11 @@ func Pack(l []float32) ([]byte, api.Errno) {
 	}
 	high, low := halves(len(l))
 	s := append([]byte(streamMark), high, low)
-	s = append(s, mapped(l, func(x float32) byte {
+	s = append(s, common.Mapped(l, func(x float32) byte {
 		high, _ := halves(unitOf(x))
 		return high
 	})...)
-	s = append(s, mapped(l, func(x float32) byte {
+	s = append(s, common.Mapped(l, func(x float32) byte {
 		_, low := halves(unitOf(x))
 		return low
 	})...)

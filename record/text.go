@@ -5,6 +5,7 @@ import (
 	"strings"
 
 	"glideslope/api"
+	"glideslope/common"
 )
 
 const (
@@ -19,12 +20,12 @@ func Print(r Recording) (string, api.Errno) {
 		return "", e
 	}
 	var s strings.Builder
-	s.WriteString(lineOf(headWord, strconv.Itoa(r.Start), strconv.Itoa(r.Step)))
+	s.WriteString(common.NumberLine(headWord, r.Start, r.Step))
 	for _, m := range r.Marks {
-		s.WriteString(lineOf(markWord, strconv.Itoa(m.Index), m.Name))
+		s.WriteString(common.Line(markWord, strconv.Itoa(m.Index), m.Name))
 	}
 	for _, x := range r.Samples {
-		s.WriteString(lineOf(sampleWord, strconv.Itoa(unitOf(x))))
+		s.WriteString(common.NumberLine(sampleWord, unitOf(x)))
 	}
 	if s.Len() > api.MaxText {
 		return "", api.ErrLong
@@ -32,51 +33,20 @@ func Print(r Recording) (string, api.Errno) {
 	return s.String(), api.OK
 }
 
-func lineOf(words ...string) string { return strings.Join(words, " ") + "\n" }
-
 // Parse returns the recording of a string, and the index of the first line that is wrong.
 func Parse(s string) (Recording, int, api.Errno) {
-	if len(s) > api.MaxText {
-		return Recording{}, 0, api.ErrLong
+	var r Recording
+	n, e := common.ReadLines(s, func(at int, w *common.Words) bool { return readLine(&r, at, w) })
+	if e != api.OK {
+		return Recording{}, n, e
 	}
-	lines := linesOf(s)
-	if len(lines) == 0 {
+	if n == 0 {
 		return Recording{}, 0, api.ErrSyntax
 	}
-	var r Recording
-	for i, line := range lines {
-		if !readLine(&r, i, line) {
-			return Recording{}, i, api.ErrSyntax
-		}
-	}
 	if e := CheckRecording(r); e != api.OK {
-		return Recording{}, len(lines), e
+		return Recording{}, n, e
 	}
 	return r, 0, api.OK
-}
-
-// linesOf returns the lines of a string with their line feeds.
-func linesOf(s string) []string {
-	lines := strings.SplitAfter(s, "\n")
-	if last := len(lines) - 1; lines[last] == "" {
-		return lines[:last]
-	}
-	return lines
-}
-
-// wordList is the words of a line that have not been taken yet.
-type wordList struct {
-	words []string
-}
-
-// next takes the next word, or the empty string, which is no word of any line, if there is none.
-func (l *wordList) next() string {
-	if len(l.words) == 0 {
-		return ""
-	}
-	word := l.words[0]
-	l.words = l.words[1:]
-	return word
 }
 
 // kind is a kind of lines: its first word, whether it may be the line at an index, after what was read before, and what reads its other words.
@@ -95,31 +65,26 @@ func kinds() []kind {
 }
 
 // readLine adds the line at an index to a recording, and reports whether it is one.
-func readLine(r *Recording, at int, line string) bool {
-	text, ended := strings.CutSuffix(line, "\n")
-	if !ended {
-		return false
-	}
-	l := wordList{strings.Split(text, " ")}
-	take := l.next
+func readLine(r *Recording, at int, w *common.Words) bool {
+	take := w.Next
 	word := take()
 	for _, k := range kinds() {
 		if k.word == word && k.fits(r, at) {
-			return k.read(r, take) && len(l.words) == 0
+			return k.read(r, take)
 		}
 	}
 	return false
 }
 
 func readHead(r *Recording, take func() string) bool {
-	start, isStart := integer(take(), 0)
-	step, isStep := integer(take(), 0)
+	start, isStart := common.Count(take())
+	step, isStep := common.Count(take())
 	r.Start, r.Step = start, step
 	return isStart && isStep
 }
 
 func readMark(r *Recording, take func() string) bool {
-	index, is := integer(take(), 0)
+	index, is := common.Count(take())
 	name := take()
 	r.Marks = append(r.Marks, Marker{index, name})
 	return is && name != ""
@@ -127,13 +92,7 @@ func readMark(r *Recording, take func() string) bool {
 
 // readSample reads an integer of a sample. One that is too large to be exact is out of range all the same.
 func readSample(r *Recording, take func() string) bool {
-	n, is := integer(take(), -api.MaxNumber)
+	n, is := common.Integer(take())
 	r.Samples = append(r.Samples, sampleOf(n))
 	return is
-}
-
-// integer returns the integer of a word, and whether it is one from low to MaxNumber (9 digits), written as Print writes it.
-func integer(word string, low int) (int, bool) {
-	n, e := strconv.Atoi(word)
-	return n, e == nil && strconv.Itoa(n) == word && n >= low && n <= api.MaxNumber
 }

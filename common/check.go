@@ -1,0 +1,35 @@
+// Package common has what all layers need: the choice of the first error, lists, spans, ratios, and lines of words.
+package common
+
+import "glideslope/api"
+
+// First returns the first error that is not OK, or OK.
+func First(l ...api.Errno) api.Errno {
+	for _, e := range l {
+		if e != api.OK {
+			return e
+		}
+	}
+	return api.OK
+}
+
+// Failed returns an error if something is wrong, or OK.
+func Failed(wrong bool, e api.Errno) api.Errno {
+	if wrong {
+		return e
+	}
+	return api.OK
+}
+
+// Between returns ErrRange if a number is not from low to high, or OK.
+func Between(n, low, high int) api.Errno {
+	return Failed(n < low || n > high, api.ErrRange)
+}
+
+// CheckList returns ErrMany if a list has more elements than permitted, or the error of the first element with one, or OK.
+func CheckList[T any](l []T, most int, check func(T) api.Errno) api.Errno {
+	if len(l) > most {
+		return api.ErrMany
+	}
+	return First(Mapped(l, check)...)
+}

@@ -1,0 +1,123 @@
+package common_test
+
+import (
+	"fmt"
+	"math"
+	"strings"
+	"testing"
+
+	"glideslope/api"
+	"glideslope/common"
+)
+
+// same compares results with the expected ones; nil and empty lists are equal.
+func same(t *testing.T, what string, got, want []any) {
+	t.Helper()
+	shown := func(l []any) string { return strings.ReplaceAll(fmt.Sprintf("%#v", l), "(nil)", "{}") }
+	if g, w := shown(got), shown(want); g != w {
+		t.Errorf("%s:\n got %s\nwant %s", what, g, w)
+	}
+}
+
+func all(l ...any) []any { return l }
+
+func TestFirst(t *testing.T) {
+	same(t, "First", all(common.First(), common.First(api.OK, api.OK), common.First(api.OK, api.ErrOld, api.ErrForm)), all(api.OK, api.OK, api.ErrOld))
+	same(t, "Failed", all(common.Failed(true, api.ErrForm), common.Failed(false, api.ErrForm)), all(api.ErrForm, api.OK))
+	for n, want := range map[int]api.Errno{-3: api.ErrRange, -2: api.OK, 5: api.OK, 6: api.ErrRange, math.MinInt: api.ErrRange, math.MaxInt: api.ErrRange} {
+		same(t, "Between", all(n, common.Between(n, -2, 5)), all(n, want))
+	}
+}
+
+func TestCheckList(t *testing.T) {
+	check := func(n int) api.Errno { return api.Errno(n) }
+	for i, x := range []struct {
+		l []int
+		e api.Errno
+	}{{nil, api.OK}, {[]int{0, 0, 0}, api.OK}, {[]int{0, 0, 0, 0}, api.ErrMany}, {[]int{9, 0, 0, 0}, api.ErrMany}, {[]int{0, 7, 3}, api.ErrNone}} {
+		same(t, "CheckList", all(i, common.CheckList(x.l, 3, check)), all(i, x.e))
+	}
+}
+
+func TestLists(t *testing.T) {
+	l := []int{1, 2, 3}
+	same(t, "Mapped", all(common.Mapped(l, func(n int) bool { return n == 2 }), l), all([]bool{false, true, false}, []int{1, 2, 3}))
+	var spans []api.Span
+	for _, i := range []int{0, 1, 3, 7, 8} {
+		spans = common.Widened(spans, i)
+	}
+	want := []api.Span{{From: 0, To: 2}, {From: 3, To: 4}, {From: 7, To: 9}}
+	same(t, "Widened", all(spans), all(want))
+	same(t, "SpansWhere", all(common.SpansWhere([]byte("xx-x---xx"), func(b byte) bool { return b == 'x' })), all(want))
+	same(t, "SpansWhere of none", all(common.SpansWhere([]byte("---"), func(b byte) bool { return b == 'x' })), all([]api.Span(nil)))
+}
+
+func TestRatios(t *testing.T) {
+	for _, x := range [][3]int{{12, 18, 6}, {-12, 18, 6}, {12, -18, 6}, {0, 7, 7}, {7, 0, 7}, {0, 0, 0}, {1, 999999999, 1}} {
+		same(t, "Divisor", all(x, common.Divisor(x[0], x[1])), all(x, x[2]))
+	}
+	for _, x := range [][4]int{{12, 18, 2, 3}, {-12, 18, -2, 3}, {0, 7, 0, 1}, {5, 1, 5, 1}, {0, 0, 0, 0}} {
+		same(t, "Ratio", all(x, common.Ratio(x[0], x[1])), all(x, api.Ratio{Num: x[2], Den: x[3]}))
+	}
+}
+
+func TestIntegers(t *testing.T) {
+	for _, x := range []struct {
+		word              string
+		n                 int
+		isCount, isNumber bool
+	}{
+		{"0", 0, true, true}, {"7", 7, true, true}, {"10", 10, true, true}, {"999999999", 999999999, true, true}, {"-1", -1, false, true}, {"-999999999", -999999999, false, true},
+		{"", 0, false, false}, {"-", 0, false, false}, {"-0", 0, false, false}, {"00", 0, false, false}, {"01", 0, false, false}, {"-01", 0, false, false}, {"--1", 0, false, false}, {"+1", 0, false, false},
+		{"1000000000", 0, false, false}, {"-1000000000", 0, false, false}, {"000000001", 0, false, false}, {"1a", 0, false, false}, {"a", 0, false, false}, {"1-", 0, false, false}, {"1/", 0, false, false}, {"1:", 0, false, false},
+		{"\u0661", 0, false, false}, {"1\xff", 0, false, false}, {" 1", 0, false, false}, {"1_0", 0, false, false}, {"0x1", 0, false, false},
+	} {
+		n, is := common.Integer(x.word)
+		same(t, "Integer", all(x.word, n, is), all(x.word, x.n, x.isNumber))
+		n, is = common.Count(x.word)
+		if !x.isCount {
+			x.n = 0
+		}
+		same(t, "Count", all(x.word, n, is), all(x.word, x.n, x.isCount))
+	}
+}
+
+func TestLines(t *testing.T) {
+	same(t, "Line", all(common.Line("a", "b c", ""), common.NumberLine("x", 1, -20), common.NumberLine("x")), all("a b c \n", "x 1 -20\n", "x\n"))
+	for i, x := range []struct {
+		s  string
+		n  int
+		e  api.Errno
+		in []string
+	}{
+		{"", 0, api.OK, nil},
+		{"x 1 2\nx 3 -4\n", 2, api.OK, []string{"0 x [1 2] true\n", "1 x [3 -4] true\n"}},
+		{"x 1 2\nx 3 4", 1, api.ErrSyntax, []string{"0 x [1 2] true\n"}},
+		{"x 1 2\n\nx 1 2\n", 1, api.ErrSyntax, []string{"0 x [1 2] true\n", "1  [0 0] false\n"}},
+		{"x 1\n", 0, api.ErrSyntax, []string{"0 x [1 0] false\n"}},
+		{"x a 2\n", 0, api.ErrSyntax, []string{"0 x [0 2] false\n"}},
+		{"x 1 2 3\n", 0, api.ErrSyntax, []string{"0 x [1 2] true\n"}},
+		{"x 1 2 \n", 0, api.ErrSyntax, []string{"0 x [1 2] true\n"}},
+		{"x  1 2\n", 0, api.ErrSyntax, []string{"0 x [0 1] false\n"}},
+		{strings.Repeat("x 1 2\n", 682) + "xxxx", 682, api.ErrSyntax, linesRead(682)},
+		{strings.Repeat("x 1 2\n", 682) + "xxxxx", 0, api.ErrLong, nil},
+	} {
+		var in []string
+		n, e := common.ReadLines(x.s, func(at int, w *common.Words) bool {
+			word := w.Next()
+			l, is := common.Integers(2, w.Next)
+			in = append(in, fmt.Sprintln(at, word, l, is))
+			return is
+		})
+		same(t, "ReadLines", all(i, n, e, in), all(i, x.n, x.e, x.in))
+	}
+}
+
+// linesRead returns what is read of n lines that are `x 1 2`.
+func linesRead(n int) []string {
+	var l []string
+	for i := range n {
+		l = append(l, fmt.Sprintln(i, "x", []int{1, 2}, true))
+	}
+	return l
+}

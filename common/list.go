@@ -1,0 +1,32 @@
+package common
+
+import "glideslope/api"
+
+// Mapped returns what a function makes of each element of a list.
+func Mapped[A, B any](l []A, f func(A) B) []B {
+	out := make([]B, len(l))
+	for i, x := range l {
+		out[i] = f(x)
+	}
+	return out
+}
+
+// Widened returns ascending spans with one index more at their end; spans that touch are one span.
+func Widened(l []api.Span, i int) []api.Span {
+	if n := len(l); n > 0 && l[n-1].To == i {
+		l[n-1].To++
+		return l
+	}
+	return append(l, api.Span{From: i, To: i + 1})
+}
+
+// SpansWhere returns the longest spans of successive elements that a function holds for.
+func SpansWhere[T any](l []T, holds func(T) bool) []api.Span {
+	var spans []api.Span
+	for i, x := range l {
+		if holds(x) {
+			spans = Widened(spans, i)
+		}
+	}
+	return spans
+}
