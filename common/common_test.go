@@ -61,6 +61,32 @@ func TestRatios(t *testing.T) {
 	}
 }
 
+func TestQuotients(t *testing.T) {
+	for _, x := range [][5]int{{7, 2, 3, 4, 4}, {-7, 2, -4, -3, -3}, {6, 3, 2, 2, 2}, {-6, 3, -2, -2, -2}, {0, 5, 0, 0, 0}, {1, 3, 0, 1, 0}, {2, 3, 0, 1, 1}, {-1, 3, -1, 0, 0}, {-2, 3, -1, 0, -1}, {1, 2, 0, 1, 1}, {-1, 2, -1, 0, 0}, {1 << 60, 1, 1 << 60, 1 << 60, 1 << 60}} {
+		same(t, "Floor, Ceiling, Nearest", all(x[:2], common.Floor(x[0], x[1]), common.Ceiling(x[0], x[1]), common.Nearest(x[0], x[1])), all(x[:2], x[2], x[3], x[4]))
+		same(t, "Floor of int64", all(x[:2], common.Floor(int64(x[0]), int64(x[1]))), all(x[:2], int64(x[2])))
+	}
+}
+
+func TestComplexIntegers(t *testing.T) {
+	gauss := func(re, im int) api.Gauss { return api.Gauss{Re: re, Im: im} }
+	for k, want := range map[int]api.Gauss{0: gauss(1, 0), 1: gauss(0, 1), 2: gauss(-1, 0), 3: gauss(0, -1), 4: gauss(1, 0), 9: gauss(0, 1), -1: gauss(0, -1), -6: gauss(-1, 0), math.MinInt: gauss(1, 0), math.MaxInt: gauss(0, -1)} {
+		same(t, "Turn", all(k, common.Turn(k)), all(k, want))
+	}
+	for k, want := range map[int]api.Errno{-1: api.ErrRange, 0: api.OK, 3: api.OK, 4: api.ErrRange, math.MinInt: api.ErrRange} {
+		same(t, "CheckTurns", all(k, common.CheckTurns(k)), all(k, want))
+	}
+	minus := math.Copysign(0, -1)
+	same(t, "Complex, Gauss", all(common.Complex(gauss(3, -4)), common.Gauss(3-4i), common.Complex(common.Gauss(complex(minus, minus)))), all(3-4i, gauss(3, -4), 0i))
+	same(t, "Conjugate, Along", all(common.Conjugate(3-4i), common.Along(3-4i, 1+2i), common.Along(30000000-30000000i, 30000000-30000001i)), all(3+4i, -5, 1800000030000000))
+	for i, x := range []struct {
+		l []api.Gauss
+		e api.Errno
+	}{{nil, api.OK}, {[]api.Gauss{gauss(9, -9), gauss(-9, 9)}, api.OK}, {[]api.Gauss{gauss(0, 0), gauss(10, 0)}, api.ErrRange}, {[]api.Gauss{gauss(-10, 0)}, api.ErrRange}, {[]api.Gauss{gauss(0, 10)}, api.ErrRange}, {[]api.Gauss{gauss(0, -10), gauss(0, 0)}, api.ErrRange}, {[]api.Gauss{gauss(math.MinInt, 0)}, api.ErrRange}} {
+		same(t, "CheckParts", all(i, common.CheckParts(9, x.l...)), all(i, x.e))
+	}
+}
+
 func TestIntegers(t *testing.T) {
 	for _, x := range []struct {
 		word              string
@@ -110,6 +136,24 @@ func TestLines(t *testing.T) {
 			return is
 		})
 		same(t, "ReadLines", all(i, n, e, in), all(i, x.n, x.e, x.in))
+	}
+}
+
+func TestParseLines(t *testing.T) {
+	check := func(l []string) api.Errno {
+		return common.First(common.Failed(len(l) == 0, api.ErrEmpty), common.Failed(len(l) > 2, api.ErrMany))
+	}
+	for i, x := range []struct {
+		s  string
+		l  []string
+		at int
+		e  api.Errno
+	}{
+		{"x 1 -2\nx 3 4\n", []string{"[1 -2]", "[3 4]"}, 0, api.OK}, {"", nil, 0, api.ErrEmpty}, {strings.Repeat("x 1 2\n", 3), nil, 3, api.ErrMany},
+		{"x 1 2\ny 1 2\n", nil, 1, api.ErrSyntax}, {"x 1\n", nil, 0, api.ErrSyntax}, {"x 1 2 3\n", nil, 0, api.ErrSyntax}, {strings.Repeat("x 1 2\n", 3) + "x", nil, 3, api.ErrSyntax}, {strings.Repeat("x 1 2\n", 683), nil, 0, api.ErrLong},
+	} {
+		l, at, e := common.ParseLines(x.s, "x", 2, func(l []int) string { return fmt.Sprint(l) }, check)
+		same(t, "ParseLines", all(i, l, at, e), all(i, x.l, x.at, x.e))
 	}
 }
 

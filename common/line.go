@@ -33,6 +33,22 @@ func ReadLines(s string, read func(at int, w *Words) bool) (int, api.Errno) {
 	return len(lines), api.OK
 }
 
+// ParseLines returns the elements of a string, each of whose lines is a word and n integers. If the string is too long, a line is wrong, or the elements have an error, it returns the index and the error.
+func ParseLines[T any](s, word string, n int, element func(l []int) T, check func(l []T) api.Errno) ([]T, int, api.Errno) {
+	var l []T
+	lines, e := ReadLines(s, func(_ int, w *Words) bool {
+		take := w.Next
+		first := take()
+		integers, are := Integers(n, take)
+		l = append(l, element(integers))
+		return are && first == word
+	})
+	if e := First(e, check(l)); e != api.OK {
+		return nil, lines, e
+	}
+	return l, 0, api.OK
+}
+
 // linesOf returns the lines of a string with their line feeds.
 func linesOf(s string) []string {
 	lines := strings.SplitAfter(s, "\n")

@@ -7,22 +7,12 @@ import (
 	"glideslope/common"
 )
 
-// turns has the powers of i from 0 to 3.
-var turns = [4]api.Gauss{{Re: 1, Im: 0}, {Re: 0, Im: 1}, {Re: -1, Im: 0}, {Re: 0, Im: -1}}
+func plus(a, b api.Gauss) api.Gauss { return common.Gauss(common.Complex(a) + common.Complex(b)) }
 
-func complexOf(g api.Gauss) complex128 { return complex(float64(g.Re), float64(g.Im)) }
-
-// gaussOf returns the complex integer of a complex number whose parts are integers.
-func gaussOf(x complex128) api.Gauss { return api.Gauss{Re: int(real(x)), Im: int(imag(x))} }
-
-func conjugate(x complex128) complex128 { return complex(real(x), -imag(x)) }
-
-func plus(a, b api.Gauss) api.Gauss { return gaussOf(complexOf(a) + complexOf(b)) }
-
-func times(a, b api.Gauss) api.Gauss { return gaussOf(complexOf(a) * complexOf(b)) }
+func times(a, b api.Gauss) api.Gauss { return common.Gauss(common.Complex(a) * common.Complex(b)) }
 
 // along returns the real part of the product of a number and the conjugate of another one.
-func along(a, b api.Gauss) int { return int(real(complexOf(a) * conjugate(complexOf(b)))) }
+func along(a, b api.Gauss) int { return common.Along(common.Complex(a), common.Complex(b)) }
 
 func square(g api.Gauss) int { return along(g, g) }
 
@@ -41,14 +31,6 @@ func (x quotient) times(y quotient) quotient { return quotient{x.num * y.num, x.
 
 func (x quotient) compare(y quotient) int { return cmp.Compare(x.num*y.den, y.num*x.den) }
 
-// floor returns the greatest integer that is not above a quotient.
-func (x quotient) floor() int64 {
-	n := x.num / x.den
-	if n*x.den > x.num {
-		n--
-	}
-	return n
-}
+func (x quotient) floor() int64 { return common.Floor(x.num, x.den) }
 
-// nearest returns the nearest integer, from the middle the greater one.
-func (x quotient) nearest() int64 { return quotient{2*x.num + x.den, 2 * x.den}.floor() }
+func (x quotient) nearest() int64 { return common.Nearest(x.num, x.den) }

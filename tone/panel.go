@@ -54,11 +54,11 @@ func (p panel) received() (Signal, api.Gauss, api.Errno) {
 	if !isWhole {
 		return Signal{}, api.Gauss{}, api.ErrShape
 	}
-	s, e := result(Signal{gaussOf(q[0]), gaussOf(q[1]), gaussOf(q[2])})
+	s, e := result(Signal{common.Gauss(q[0]), common.Gauss(q[1]), common.Gauss(q[2])})
 	if e != api.OK {
 		return Signal{}, api.Gauss{}, e
 	}
-	return s, gaussOf(q[3]), api.OK
+	return s, common.Gauss(q[3]), api.OK
 }
 
 // Sampled returns the four samples of a signal.
@@ -68,9 +68,9 @@ func Sampled(s Signal) ([4]complex64, api.Errno) {
 	}
 	var p [4]complex64
 	for i := range 4 {
-		x := complexOf(s.Carrier)
+		x := common.Complex(s.Carrier)
 		for _, t := range tones() {
-			x += complexOf(t.sideband(s)) * complex(float64(t.factors[i]), 0)
+			x += common.Complex(t.sideband(s)) * complex(float64(t.factors[i]), 0)
 		}
 		p[i] = complex64(x)
 	}

@@ -22,15 +22,8 @@ func tones() [2]tone {
 // CheckSignal returns the first error of a signal, or OK.
 func CheckSignal(s Signal) api.Errno {
 	return common.First(
-		checkParts(MaxAmplitude, s.Carrier, s.Low, s.High),
+		common.CheckParts(MaxAmplitude, s.Carrier, s.Low, s.High),
 		common.Failed(s.Carrier == api.Gauss{}, api.ErrZero))
-}
-
-// checkParts returns ErrRange if a part of a complex integer is above a limit, or below its opposite, or OK.
-func checkParts(most int, l ...api.Gauss) api.Errno {
-	return common.First(common.Mapped(l, func(g api.Gauss) api.Errno {
-		return common.First(common.Between(g.Re, -most, most), common.Between(g.Im, -most, most))
-	})...)
 }
 
 // checkResult returns the first error of a signal that is a result, or OK.
@@ -114,19 +107,19 @@ func result(s Signal) (Signal, api.Errno) {
 
 // Turned returns a signal turned by quarter turns.
 func Turned(s Signal, k int) (Signal, api.Errno) {
-	if e := common.First(CheckSignal(s), common.Between(k, 0, len(turns)-1)); e != api.OK {
+	if e := common.First(CheckSignal(s), common.CheckTurns(k)); e != api.OK {
 		return Signal{}, e
 	}
-	return s.multiplied(turns[k], turns[k]), api.OK
+	return s.multiplied(common.Turn(k), common.Turn(k)), api.OK
 }
 
 // Scaled returns a signal after factors of its carrier and of its sidebands.
 func Scaled(s Signal, carrier, sidebands api.Gauss) (Signal, api.Errno) {
 	e := common.First(
 		CheckSignal(s),
-		checkParts(MaxFactor, carrier),
+		common.CheckParts(MaxFactor, carrier),
 		common.Failed(carrier == api.Gauss{}, api.ErrZero),
-		checkParts(MaxFactor, sidebands))
+		common.CheckParts(MaxFactor, sidebands))
 	if e != api.OK {
 		return Signal{}, e
 	}

@@ -23,27 +23,14 @@ func Print(l []Signal) (string, api.Errno) {
 
 // Parse returns the signals with a string, or the index of the first line that is wrong.
 func Parse(s string) ([]Signal, int, api.Errno) {
-	var l []Signal
-	n, e := common.ReadLines(s, func(_ int, w *common.Words) bool {
-		x, is := readSignal(w)
-		l = append(l, x)
-		return is
-	})
-	e = common.First(e, checkSignals(l))
-	if e != api.OK {
-		return nil, n, e
-	}
-	return l, 0, api.OK
+	return common.ParseLines(s, signalWord, 6, signalOf, checkSignals)
 }
 
-// readSignal returns the signal of a line, and whether the line is one.
-func readSignal(w *common.Words) (Signal, bool) {
-	take := w.Next
-	word := take()
-	n, is := common.Integers(6, take)
+// signalOf returns the signal whose numbers have these parts.
+func signalOf(l []int) Signal {
 	return Signal{
-		Carrier: api.Gauss{Re: n[0], Im: n[1]},
-		Low:     api.Gauss{Re: n[2], Im: n[3]},
-		High:    api.Gauss{Re: n[4], Im: n[5]},
-	}, is && word == signalWord
+		Carrier: api.Gauss{Re: l[0], Im: l[1]},
+		Low:     api.Gauss{Re: l[2], Im: l[3]},
+		High:    api.Gauss{Re: l[4], Im: l[5]},
+	}
 }
