@@ -66,7 +66,7 @@ func width(needles []int, c Crossing, limit int) (api.Interval, api.Errno) {
 search:
 	for i, n := range needles {
 		switch {
-		case absolute(n) < limit:
+		case common.Absolute(n) < limit:
 		case i <= c.From:
 			low = i
 		default: // between From and To there is no index
@@ -90,7 +90,7 @@ func Clearance(l []Aerial, scan []Direction, indices api.Span) (int, int, api.Er
 	if e != api.OK {
 		return 0, 0, e
 	}
-	sizes := common.Mapped(n[indices.From:indices.To], absolute)
+	sizes := common.Mapped(n[indices.From:indices.To], common.Absolute)
 	least := slices.Min(sizes)
 	return least, indices.From + slices.Index(sizes, least), api.OK
 }

@@ -15,11 +15,6 @@ func changed(l []Aerial, i int, change func(a Aerial) Aerial) []Aerial {
 	return out
 }
 
-// checkIndex returns ErrUnknown if an index is none of an aerial, or OK.
-func checkIndex(l []Aerial, i int) api.Errno {
-	return common.Failed(i < 0 || i >= len(l), api.ErrUnknown)
-}
-
 // limited returns an array if each part of its feeds is in its range, or ErrLarge.
 func limited(l []Aerial) ([]Aerial, api.Errno) {
 	if CheckArray(l) != api.OK {
@@ -68,7 +63,7 @@ func thousandth(x complex128) complex128 {
 
 // Failed returns an array of which an aerial has failed.
 func Failed(l []Aerial, i int) ([]Aerial, api.Errno) {
-	if e := common.First(CheckArray(l), checkIndex(l, i)); e != api.OK {
+	if e := common.First(CheckArray(l), common.CheckIndex(i, len(l))); e != api.OK {
 		return nil, e
 	}
 	return changed(l, i, func(a Aerial) Aerial { return Aerial{At: a.At} }), api.OK
@@ -76,7 +71,7 @@ func Failed(l []Aerial, i int) ([]Aerial, api.Errno) {
 
 // Detuned returns an array of which an aerial is detuned by quarter turns.
 func Detuned(l []Aerial, i, turns int) ([]Aerial, api.Errno) {
-	if e := common.First(CheckArray(l), checkIndex(l, i), common.CheckTurns(turns)); e != api.OK {
+	if e := common.First(CheckArray(l), common.CheckIndex(i, len(l)), common.CheckTurns(turns)); e != api.OK {
 		return nil, e
 	}
 	return changed(l, i, func(a Aerial) Aerial {

@@ -49,8 +49,8 @@ func Bounds(l []Aerial, d Direction, err int) (api.Interval, api.Errno) {
 	var product, square api.Interval
 	for _, p := range parts() {
 		carrier, side := around(p.of(s.carrier), off), around(p.of(s.side), off)
-		product = plus(product, times(side, carrier))
-		square = plus(square, squared(carrier))
+		product = common.Sums(product, common.Products(side, carrier))
+		square = common.Sums(square, common.Squares(carrier))
 	}
 	if square.Low == 0 {
 		return api.Interval{}, api.ErrZero
@@ -63,7 +63,7 @@ func (d Direction) spread(l []Aerial) int {
 	sum := 0
 	for _, a := range l {
 		phase := common.Gauss(d.phase(a.At))
-		sum += absolute(phase.Re) + absolute(phase.Im)
+		sum += common.Absolute(phase.Re) + common.Absolute(phase.Im)
 	}
 	return sum
 }
@@ -72,27 +72,6 @@ func (d Direction) spread(l []Aerial) int {
 func around(n float64, by int) api.Interval {
 	return api.Interval{Low: int(n) - by, High: int(n) + by}
 }
-
-func plus(a, b api.Interval) api.Interval {
-	return api.Interval{Low: a.Low + b.Low, High: a.High + b.High}
-}
-
-// times returns the interval of the products of numbers of two intervals.
-func times(a, b api.Interval) api.Interval {
-	return reach(a.Low*b.Low, a.Low*b.High, a.High*b.Low, a.High*b.High)
-}
-
-// squared returns the interval of the squares of an interval's numbers.
-func squared(a api.Interval) api.Interval {
-	out := reach(a.Low*a.Low, a.High*a.High)
-	if a.Low < 0 && a.High > 0 {
-		out.Low = 0
-	}
-	return out
-}
-
-// reach returns the interval from the least to the greatest number.
-func reach(l ...int) api.Interval { return api.Interval{Low: slices.Min(l), High: slices.Max(l)} }
 
 // quotients returns the interval of the needles of a product and a square above 0 in their intervals.
 func quotients(product, square api.Interval) api.Interval {

@@ -18,8 +18,8 @@ func CheckNetwork(ports []complex128, network []Coupler) api.Errno {
 // checkCoupler returns the first error of a coupler between some of so many ports, or OK.
 func checkCoupler(c Coupler, ports int) api.Errno {
 	return common.First(
-		common.Failed(c.A < 0 || c.A >= ports, api.ErrUnknown),
-		common.Failed(c.B < 0 || c.B >= ports, api.ErrUnknown),
+		common.CheckIndex(c.A, ports),
+		common.CheckIndex(c.B, ports),
 		common.Failed(c.A == c.B, api.ErrTwice),
 		common.Between(c.Through, 0, MaxWhole),
 		common.Between(c.Cross, 0, MaxWhole),

@@ -42,8 +42,6 @@ func checkSquares(a, b, whole int) api.Errno {
 	return common.Failed(a*a+b*b != whole*whole, api.ErrForm)
 }
 
-func absolute(n int) int { return max(n, -n) }
-
 // scalar returns an integer as a complex number.
 func scalar(n int) complex128 { return complex(float64(n), 0) }
 

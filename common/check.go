@@ -1,4 +1,4 @@
-// Package common has what all layers need: the choice of the first error, lists, spans, ratios, and lines of words.
+// Package common has what all layers need: the choice of the first error, lists, spans, intervals, ratios, complex integers, and lines of words.
 package common
 
 import "glideslope/api"
@@ -24,6 +24,11 @@ func Failed(wrong bool, e api.Errno) api.Errno {
 // Between returns ErrRange if a number is not from low to high, or OK.
 func Between(n, low, high int) api.Errno {
 	return Failed(n < low || n > high, api.ErrRange)
+}
+
+// CheckIndex returns ErrUnknown if a number is no index of so many elements, or OK.
+func CheckIndex(i, elements int) api.Errno {
+	return Failed(i < 0 || i >= elements, api.ErrUnknown)
 }
 
 // CheckList returns ErrMany if a list has more elements than permitted, or the error of the first element with one, or OK.

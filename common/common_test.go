@@ -39,6 +39,47 @@ func TestCheckList(t *testing.T) {
 	}
 }
 
+func TestCheckIndex(t *testing.T) {
+	for i, want := range map[int]api.Errno{0: api.OK, 2: api.OK, 3: api.ErrUnknown, -1: api.ErrUnknown, math.MinInt: api.ErrUnknown, math.MaxInt: api.ErrUnknown} {
+		same(t, "CheckIndex", all(i, common.CheckIndex(i, 3), common.CheckIndex(i, 0)), all(i, want, api.ErrUnknown))
+	}
+}
+
+func interval(low, high int) api.Interval { return api.Interval{Low: low, High: high} }
+
+func TestCheckInterval(t *testing.T) {
+	for _, x := range []struct {
+		x api.Interval
+		e api.Errno
+	}{
+		{interval(-2, 5), api.OK}, {interval(5, 5), api.OK}, {interval(-2, -2), api.OK}, {interval(5, 4), api.ErrOrder}, {interval(5, -2), api.ErrOrder},
+		{interval(-3, 5), api.ErrRange}, {interval(-2, 6), api.ErrRange}, {interval(6, 5), api.ErrRange}, {interval(5, -3), api.ErrRange}, {interval(math.MinInt, math.MaxInt), api.ErrRange}, {interval(math.MaxInt, math.MinInt), api.ErrRange},
+	} {
+		same(t, "CheckInterval", all(x.x, common.CheckInterval(x.x, -2, 5)), all(x.x, x.e))
+	}
+}
+
+func TestIntervals(t *testing.T) {
+	same(t, "Exactly, Reach", all(common.Exactly(-7), common.Reach(3), common.Reach(3, -1, 8, 8, 0)), all(interval(-7, -7), interval(3, 3), interval(-1, 8)))
+	// the least and the greatest result of all numbers of both intervals
+	for a := range 81 {
+		for b := range 81 {
+			x, y := interval(a/9-4, a%9-4), interval(b/9-4, b%9-4)
+			if x.Low > x.High || y.Low > y.High {
+				continue
+			}
+			var sums, products, squares []int
+			for i := x.Low; i <= x.High; i++ {
+				squares = append(squares, i*i)
+				for j := y.Low; j <= y.High; j++ {
+					sums, products = append(sums, i+j), append(products, i*j)
+				}
+			}
+			same(t, "Sums, Products, Squares", all(x, y, common.Sums(x, y), common.Products(x, y), common.Squares(x)), all(x, y, common.Reach(sums...), common.Reach(products...), common.Reach(squares...)))
+		}
+	}
+}
+
 func TestLists(t *testing.T) {
 	l := []int{1, 2, 3}
 	same(t, "Mapped", all(common.Mapped(l, func(n int) bool { return n == 2 }), l), all([]bool{false, true, false}, []int{1, 2, 3}))
@@ -78,6 +119,7 @@ func TestComplexIntegers(t *testing.T) {
 	}
 	minus := math.Copysign(0, -1)
 	same(t, "Complex, Gauss", all(common.Complex(gauss(3, -4)), common.Gauss(3-4i), common.Complex(common.Gauss(complex(minus, minus)))), all(3-4i, gauss(3, -4), 0i))
+	same(t, "Absolute", all(common.Absolute(-3), common.Absolute(0), common.Absolute(4)), all(3, 0, 4))
 	same(t, "Conjugate, Along", all(common.Conjugate(3-4i), common.Along(3-4i, 1+2i), common.Along(30000000-30000000i, 30000000-30000001i)), all(3+4i, -5, 1800000030000000))
 	for i, x := range []struct {
 		l []api.Gauss

@@ -30,6 +30,9 @@ func CheckParts(most int, l ...api.Gauss) api.Errno {
 	})...)
 }
 
+// Absolute returns the absolute value of a number.
+func Absolute(n int) int { return max(n, -n) }
+
 // Floor returns the quotient of a number and one above 0, rounded down.
 func Floor[T int | int64](num, den T) T {
 	n := num / den

@@ -7,7 +7,7 @@ func Divisor(a, b int) int {
 	for b != 0 {
 		a, b = b, a%b
 	}
-	return max(a, -a)
+	return Absolute(a)
 }
 
 // Ratio returns the quotient of a number and one above 0 in lowest terms.

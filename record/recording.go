@@ -30,7 +30,7 @@ func checkMarks(l []Marker, n int) api.Errno {
 	after := Marker.after
 	for i, m := range l {
 		e := common.First(
-			common.Failed(m.Index < 0 || m.Index >= n, api.ErrUnknown),
+			common.CheckIndex(m.Index, n),
 			common.Failed(!IsName(m.Name), api.ErrName),
 			common.Failed(i > 0 && !after(m, l[i-1]), api.ErrOrder))
 		if e != api.OK {

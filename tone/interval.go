@@ -7,12 +7,12 @@ import (
 
 // Lost returns the needles that a receiver shows for all losses of the sidebands in an interval.
 func Lost(r Receiver, s Signal, loss api.Interval) (api.Interval, api.Errno) {
-	if e := common.First(CheckReceiver(r), CheckSignal(s), checkInterval(loss, 0, Whole)); e != api.OK {
+	if e := common.First(CheckReceiver(r), CheckSignal(s), common.CheckInterval(loss, 0, Whole)); e != api.OK {
 		return api.Interval{}, e
 	}
 	// the needle is monotonic in the loss
 	a, b := r.lost(s, loss.Low), r.lost(s, loss.High)
-	return api.Interval{Low: min(a, b), High: max(a, b)}, api.OK
+	return common.Reach(a, b), api.OK
 }
 
 // lost returns what a receiver shows for a signal with a loss.
@@ -26,7 +26,7 @@ func Noisy(r Receiver, s Signal, noise int) (api.Interval, api.Errno) {
 		return api.Interval{}, e
 	}
 	needle := s.needle()
-	by := 2 * int64(noise) * int64(max(s.Carrier.Re, -s.Carrier.Re)+max(s.Carrier.Im, -s.Carrier.Im))
+	by := 2 * int64(noise) * int64(common.Absolute(s.Carrier.Re)+common.Absolute(s.Carrier.Im))
 	return api.Interval{
 		Low:  r.shown(quotient{needle.num - by, needle.den}),
 		High: r.shown(quotient{needle.num + by, needle.den}),

@@ -22,7 +22,7 @@ func CheckReceiver(r Receiver) api.Errno {
 		common.Between(r.Scale, 1, MaxScale),
 		common.Between(r.Full, 1, MaxUnits),
 		common.Between(r.Least, 0, maxSquare),
-		checkInterval(r.Sum, -MaxBand, MaxBand))
+		common.CheckInterval(r.Sum, -MaxBand, MaxBand))
 }
 
 // flag returns the first flag that applies to a signal, or the empty string.

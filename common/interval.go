@@ -1,0 +1,42 @@
+package common
+
+import (
+	"slices"
+
+	"glideslope/api"
+)
+
+// CheckInterval returns the first error of an interval that lies from low to high, or OK.
+func CheckInterval(x api.Interval, low, high int) api.Errno {
+	ends := [2]int{x.Low, x.High}
+	ordered := [2]int{min(x.Low, x.High), max(x.Low, x.High)}
+	return First(
+		Between(x.Low, low, high),
+		Between(x.High, low, high),
+		Failed(ends != ordered, api.ErrOrder))
+}
+
+// Exactly returns the interval of one number.
+func Exactly(n int) api.Interval { return api.Interval{Low: n, High: n} }
+
+// Reach returns the interval from the least to the greatest number.
+func Reach(l ...int) api.Interval { return api.Interval{Low: slices.Min(l), High: slices.Max(l)} }
+
+// Sums returns the interval of the sums of numbers of two intervals.
+func Sums(a, b api.Interval) api.Interval {
+	return api.Interval{Low: a.Low + b.Low, High: a.High + b.High}
+}
+
+// Products returns the interval of the products of numbers of two intervals.
+func Products(a, b api.Interval) api.Interval {
+	return Reach(a.Low*b.Low, a.Low*b.High, a.High*b.Low, a.High*b.High)
+}
+
+// Squares returns the interval of the squares of an interval's numbers.
+func Squares(a api.Interval) api.Interval {
+	out := Reach(a.Low*a.Low, a.High*a.High)
+	if a.Low < 0 && a.High > 0 {
+		out.Low = 0
+	}
+	return out
+}
