@@ -199,6 +199,37 @@ func TestParseLines(t *testing.T) {
 	}
 }
 
+func TestParseEach(t *testing.T) {
+	// a line is a word, and any number of integers
+	read := func(w *common.Words) (string, bool) {
+		word, left := w.Next(), w.Left()
+		l, are := common.Integers(left, w.Next)
+		return fmt.Sprint(word, left, l, w.Left()), are && word != ""
+	}
+	check := func(l []string) api.Errno { return common.Failed(len(l) > 2, api.ErrMany) }
+	for i, x := range []struct {
+		s  string
+		l  []string
+		at int
+		e  api.Errno
+	}{
+		{"", nil, 0, api.OK}, {"x 1 -2\ny\n", []string{"x2 [1 -2] 0", "y0 [] 0"}, 0, api.OK}, {"x 1\nx\nx 1 2 3\n", nil, 3, api.ErrMany}, {"x 1 \n", nil, 0, api.ErrSyntax}, {"x 1\n\n", nil, 1, api.ErrSyntax}, {"x 1\nx 2", nil, 1, api.ErrSyntax}, {"x\nx\nx\nx a\n", nil, 3, api.ErrSyntax}, {strings.Repeat("x 12\n", 820), nil, 0, api.ErrLong},
+	} {
+		l, at, e := common.ParseEach(x.s, read, check)
+		same(t, "ParseEach", all(i, l, at, e), all(i, x.l, x.at, x.e))
+	}
+}
+
+func TestPoints(t *testing.T) {
+	point := func(x, y int) api.Point { return api.Point{X: x, Y: y} }
+	for p, want := range map[api.Point]api.Errno{point(0, 0): api.OK, point(-9, 9): api.OK, point(9, -9): api.OK, point(10, 0): api.ErrRange, point(0, 10): api.ErrRange, point(-10, 0): api.ErrRange, point(0, -10): api.ErrRange, point(math.MinInt, 0): api.ErrRange, point(0, math.MaxInt): api.ErrRange} {
+		same(t, "CheckPoint", all(p, common.CheckPoint(p, 9)), all(p, want))
+	}
+	// to the left, on the line, to the right, and as large as can be
+	a, b := point(1, 2), point(4, 3)
+	same(t, "Cross", all(common.Cross(a, b, point(1, 5)), common.Cross(a, b, point(7, 4)), common.Cross(a, b, point(4, 2)), common.Cross(point(-1000000, -1000000), point(1000000, -1000000), point(1000000, 1000000))), all(9, 0, -3, 4000000000000))
+}
+
 // linesRead returns what is read of n lines that are `x 1 2`.
 func linesRead(n int) []string {
 	var l []string

@@ -33,20 +33,28 @@ func ReadLines(s string, read func(at int, w *Words) bool) (int, api.Errno) {
 	return len(lines), api.OK
 }
 
-// ParseLines returns the elements of a string, each of whose lines is a word and n integers. If the string is too long, a line is wrong, or the elements have an error, it returns the index and the error.
-func ParseLines[T any](s, word string, n int, element func(l []int) T, check func(l []T) api.Errno) ([]T, int, api.Errno) {
+// ParseEach returns the elements of a string, one of each line. If the string is too long, a line is wrong, or the elements have an error, it returns the index and the error.
+func ParseEach[T any](s string, read func(w *Words) (T, bool), check func(l []T) api.Errno) ([]T, int, api.Errno) {
 	var l []T
 	lines, e := ReadLines(s, func(_ int, w *Words) bool {
-		take := w.Next
-		first := take()
-		integers, are := Integers(n, take)
-		l = append(l, element(integers))
-		return are && first == word
+		element, is := read(w)
+		l = append(l, element)
+		return is
 	})
 	if e := First(e, check(l)); e != api.OK {
 		return nil, lines, e
 	}
 	return l, 0, api.OK
+}
+
+// ParseLines returns the elements of a string, each of whose lines is a word and n integers, with the errors of ParseEach.
+func ParseLines[T any](s, word string, n int, element func(l []int) T, check func(l []T) api.Errno) ([]T, int, api.Errno) {
+	return ParseEach(s, func(w *Words) (T, bool) {
+		take := w.Next
+		first := take()
+		integers, are := Integers(n, take)
+		return element(integers), are && first == word
+	}, check)
 }
 
 // linesOf returns the lines of a string with their line feeds.
@@ -72,6 +80,9 @@ func (w *Words) Next() string {
 	w.left = w.left[1:]
 	return word
 }
+
+// Left returns how many words have not been taken yet.
+func (w *Words) Left() int { return len(w.left) }
 
 // Integers takes n words, and returns their integers, and whether all of them are integers.
 func Integers(n int, take func() string) ([]int, bool) {

@@ -6,9 +6,7 @@ import (
 )
 
 // checkPoint returns the error of a point of the ground, or OK.
-func checkPoint(p api.Point) api.Errno {
-	return common.First(common.Between(p.X, -MaxPlace, MaxPlace), common.Between(p.Y, -MaxPlace, MaxPlace))
-}
+func checkPoint(p api.Point) api.Errno { return common.CheckPoint(p, MaxPlace) }
 
 // checkVector returns the error of a vector, which may be below the ground, or OK.
 func checkVector(v api.Vector) api.Errno {

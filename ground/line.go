@@ -23,11 +23,6 @@ func Way(a, b api.Vector) (int, api.Errno) {
 	return wayBetween(a, b), api.OK
 }
 
-// cross returns the cross product of b less a and p less a, which has the sign of the side of p of the line from a to b.
-func cross(a, b, p api.Point) int {
-	return (b.X-a.X)*(p.Y-a.Y) - (b.Y-a.Y)*(p.X-a.X)
-}
-
 // areApart reports whether two cross products are those of points strictly on both sides of a line.
 func areApart(a, b int) bool {
 	sides := [2]int{cmp.Compare(a, 0), cmp.Compare(b, 0)}
@@ -40,8 +35,8 @@ func (p Plate) edge() api.Vector { return api.Vector{X: p.From.X, Y: p.From.Y, Z
 // blocks reports whether a plate blocks the line from a vector to another one.
 func (p Plate) blocks(from, to api.Vector) bool {
 	a, b := foot(from), foot(to)
-	sideA, sideB := cross(p.From, p.To, a), cross(p.From, p.To, b)
-	if !areApart(sideA, sideB) || !areApart(cross(a, b, p.From), cross(a, b, p.To)) {
+	sideA, sideB := common.Cross(p.From, p.To, a), common.Cross(p.From, p.To, b)
+	if !areApart(sideA, sideB) || !areApart(common.Cross(a, b, p.From), common.Cross(a, b, p.To)) {
 		return false
 	}
 	// the line's height there is the quotient of both
