@@ -283,12 +283,13 @@ func badSpacings() []bad[spacing] {
 	return out
 }
 
-// badOrders returns orders of three flights with their errors. The first index with an error decides.
+// badOrders returns orders of three flights with their errors. An index that is none decides before one that occurs twice, wherever both are.
 func badOrders() []bad[[]int] {
 	return []bad[[]int]{
 		{nil, api.ErrShape}, {[]int{0, 1}, api.ErrShape}, {[]int{0, 1, 2, 3}, api.ErrShape}, {[]int{0, 1, 2, 2}, api.ErrShape}, {[]int{-1, 3}, api.ErrShape},
 		{[]int{0, 1, 3}, api.ErrUnknown}, {[]int{-1, 0, 1}, api.ErrUnknown}, {[]int{0, math.MaxInt, 1}, api.ErrUnknown}, {[]int{0, 1, math.MinInt}, api.ErrUnknown}, {[]int{3, 3, 3}, api.ErrUnknown}, {[]int{0, 3, 0}, api.ErrUnknown},
-		{[]int{0, 0, 1}, api.ErrTwice}, {[]int{0, 1, 0}, api.ErrTwice}, {[]int{2, 1, 1}, api.ErrTwice}, {[]int{0, 0, 3}, api.ErrTwice},
+		{[]int{0, 0, 3}, api.ErrUnknown}, {[]int{1, 1, -1}, api.ErrUnknown}, {[]int{3, 0, 0}, api.ErrUnknown}, {[]int{0, 0, math.MaxInt}, api.ErrUnknown},
+		{[]int{0, 0, 1}, api.ErrTwice}, {[]int{0, 1, 0}, api.ErrTwice}, {[]int{2, 1, 1}, api.ErrTwice}, {[]int{1, 2, 1}, api.ErrTwice}, {[]int{2, 2, 2}, api.ErrTwice},
 	}
 }
 

@@ -73,20 +73,25 @@ func inOrder(l []Flight, order []int) []Flight {
 	return common.Mapped(order, func(i int) Flight { return l[i] })
 }
 
-// checkOrder returns the error of an order of so many flights, or OK.
+// checkOrder returns the error of an order of so many flights, or OK. The chapter names ErrTwice behind ErrUnknown, and not for the first index with an error: an index that is none decides also after one that occurs twice.
 func checkOrder(order []int, flights int) api.Errno {
 	if len(order) != flights {
 		return api.ErrShape
 	}
+	unknown := common.Mapped(order, func(i int) api.Errno { return common.CheckIndex(i, flights) })
+	return common.First(
+		common.First(unknown...),
+		common.Failed(hasTwice(order), api.ErrTwice))
+}
+
+// hasTwice reports whether an index occurs twice.
+func hasTwice(order []int) bool {
 	for at, i := range order {
-		e := common.First(
-			common.CheckIndex(i, flights),
-			common.Failed(slices.Contains(order[:at], i), api.ErrTwice))
-		if e != api.OK {
-			return e
+		if slices.Contains(order[:at], i) {
+			return true
 		}
 	}
-	return api.OK
+	return false
 }
 
 // checkSequence returns the first error of flights, a spacing and an order, or OK.
