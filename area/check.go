@@ -42,46 +42,27 @@ func checkSize(size int) api.Errno { return common.Between(size, 0, MaxSize) }
 // checkCategory returns the error of a category, or OK.
 func checkCategory(category int) api.Errno { return common.Between(category, 1, MaxCategory) }
 
-// named is what has a name.
-type named interface{ name() string }
-
-func (a Area) name() string    { return a.Name }
-func (n Landing) name() string { return n.Name }
-func (m Move) name() string    { return m.Name }
-func (h Hold) name() string    { return h.Name }
-func (f Flight) name() string  { return f.Name }
-
-// checkNamed returns ErrMany if a list has more elements than permitted, or the error of the first element with one, by its name, by a name that an element before it has, or by the rest of it, or OK.
-func checkNamed[T named](l []T, most int, rest func(T) api.Errno) api.Errno {
-	taken := map[string]bool{}
-	return common.CheckList(l, most, func(x T) api.Errno {
-		isTaken := taken[x.name()]
-		taken[x.name()] = true
-		return common.First(
-			common.Failed(!record.IsName(x.name()), api.ErrName),
-			common.Failed(isTaken, api.ErrTwice),
-			rest(x))
-	})
-}
-
 // CheckAreas returns the first error of areas, or OK.
 func CheckAreas(l []Area) api.Errno {
-	return checkNamed(l, MaxAreas, func(a Area) api.Errno {
-		return common.First(checkSize(a.Size), checkCategory(a.Category), CheckPolygon(a.Polygon))
+	checkName := common.Distinct(record.IsName)
+	return common.CheckList(l, MaxAreas, func(a Area) api.Errno {
+		return common.First(checkName(a.Name), checkSize(a.Size), checkCategory(a.Category), CheckPolygon(a.Polygon))
 	})
 }
 
 // CheckLandings returns the first error of landings, or OK.
 func CheckLandings(l []Landing) api.Errno {
-	return checkNamed(l, MaxLandings, func(n Landing) api.Errno {
-		return common.First(checkCategory(n.Category), checkTicks(n.Ticks))
+	checkName := common.Distinct(record.IsName)
+	return common.CheckList(l, MaxLandings, func(n Landing) api.Errno {
+		return common.First(checkName(n.Name), checkCategory(n.Category), checkTicks(n.Ticks))
 	})
 }
 
 // CheckMoves returns the first error of moves, or OK.
 func CheckMoves(l []Move) api.Errno {
-	return checkNamed(l, MaxMoves, func(m Move) api.Errno {
-		return common.First(checkSize(m.Size), checkBox(m.Box), checkTicks(m.Ticks))
+	checkName := common.Distinct(record.IsName)
+	return common.CheckList(l, MaxMoves, func(m Move) api.Errno {
+		return common.First(checkName(m.Name), checkSize(m.Size), checkBox(m.Box), checkTicks(m.Ticks))
 	})
 }
 
@@ -90,14 +71,18 @@ func checkMove(m Move) api.Errno { return CheckMoves([]Move{m}) }
 
 // checkHolds returns the error of holds, or OK.
 func checkHolds(l []Hold) api.Errno {
-	return checkNamed(l, MaxHolds, func(h Hold) api.Errno { return checkPoint(h.At) })
+	checkName := common.Distinct(record.IsName)
+	return common.CheckList(l, MaxHolds, func(h Hold) api.Errno {
+		return common.First(checkName(h.Name), checkPoint(h.At))
+	})
 }
 
 // CheckFlights returns the first error of flights, or OK.
 func CheckFlights(l []Flight) api.Errno {
+	checkName := common.Distinct(record.IsName)
 	return common.First(
 		common.Failed(len(l) == 0, api.ErrEmpty),
-		checkNamed(l, api.MaxExact, func(f Flight) api.Errno {
-			return common.First(common.Between(f.Kind, 0, MaxKind), checkTick(f.Ready))
+		common.CheckList(l, api.MaxExact, func(f Flight) api.Errno {
+			return common.First(checkName(f.Name), common.Between(f.Kind, 0, MaxKind), checkTick(f.Ready))
 		}))
 }

@@ -11,23 +11,16 @@ import (
 // applies reports whether an area applies to objects of a size, and to landings of a category.
 func (a Area) applies(size, category int) bool { return size >= a.Size && category >= a.Category }
 
-// namesWhere returns the names of the elements that a function holds for.
-func namesWhere[T named](l []T, holds func(T) bool) []string {
-	var names []string
-	for _, x := range l {
-		if holds(x) {
-			names = append(names, x.name())
-		}
-	}
-	return names
-}
+// name returns the name of an area.
+func (a Area) name() string { return a.Name }
 
 // Applying returns the names of the areas that apply.
 func Applying(l []Area, size, category int) ([]string, api.Errno) {
 	if e := common.First(CheckAreas(l), checkSize(size), checkCategory(category)); e != api.OK {
 		return nil, e
 	}
-	return namesWhere(l, func(a Area) bool { return a.applies(size, category) }), api.OK
+	applying := common.Where(l, func(a Area) bool { return a.applies(size, category) })
+	return common.Mapped(applying, Area.name), api.OK
 }
 
 // shared returns the ticks that two spans have in common; its To is not above its From if there are none.
@@ -95,17 +88,21 @@ func Clear(areas []Area, landings []Landing, moves []Move, tick int) (bool, api.
 	return true, api.OK
 }
 
+// name returns the name of a holding point.
+func (h Hold) name() string { return h.Name }
+
 // Usable returns the names of the holds that are usable.
 func Usable(areas []Area, holds []Hold, size, category int) ([]string, api.Errno) {
 	e := common.First(CheckAreas(areas), checkHolds(holds), checkSize(size), checkCategory(category))
 	if e != api.OK {
 		return nil, e
 	}
-	return namesWhere(holds, func(h Hold) bool {
+	free := common.Where(holds, func(h Hold) bool {
 		return !slices.ContainsFunc(areas, func(a Area) bool {
 			return a.applies(size, category) && isIn(a.Polygon, h.At)
 		})
-	}), api.OK
+	})
+	return common.Mapped(free, Hold.name), api.OK
 }
 
 // starting returns a move that starts at a tick, and has as many ticks as before.

@@ -45,6 +45,18 @@ func TestCheckIndex(t *testing.T) {
 	}
 }
 
+func TestDistinct(t *testing.T) {
+	isName := func(s string) bool { return s != "" && s[0] != '9' }
+	check := common.Distinct(isName)
+	for i, x := range []struct {
+		name string
+		e    api.Errno
+	}{{"a", api.OK}, {"b", api.OK}, {"a", api.ErrTwice}, {"", api.ErrName}, {"", api.ErrName}, {"9", api.ErrName}, {"A", api.OK}, {"b", api.ErrTwice}, {"a", api.ErrTwice}} {
+		same(t, "Distinct", all(i, check(x.name)), all(i, x.e))
+	}
+	same(t, "Distinct of another list", all(common.Distinct(isName)("a")), all(api.OK))
+}
+
 func interval(low, high int) api.Interval { return api.Interval{Low: low, High: high} }
 
 func TestCheckInterval(t *testing.T) {
@@ -60,6 +72,9 @@ func TestCheckInterval(t *testing.T) {
 }
 
 func TestIntervals(t *testing.T) {
+	for n, is := range map[int]bool{-3: false, -2: true, 0: true, 5: true, 6: false, math.MinInt: false, math.MaxInt: false} {
+		same(t, "Within", all(n, common.Within(n, interval(-2, 5)), common.Within(n, interval(n, n)), common.Within(n, interval(5, -2))), all(n, is, true, false))
+	}
 	same(t, "Exactly, Reach", all(common.Exactly(-7), common.Reach(3), common.Reach(3, -1, 8, 8, 0)), all(interval(-7, -7), interval(3, 3), interval(-1, 8)))
 	// the least and the greatest result of all numbers of both intervals
 	for a := range 81 {
@@ -83,6 +98,8 @@ func TestIntervals(t *testing.T) {
 func TestLists(t *testing.T) {
 	l := []int{1, 2, 3}
 	same(t, "Mapped", all(common.Mapped(l, func(n int) bool { return n == 2 }), l), all([]bool{false, true, false}, []int{1, 2, 3}))
+	isOdd := func(n int) bool { return n%2 == 1 }
+	same(t, "Where", all(common.Where(l, isOdd), common.Where(l[1:2], isOdd), common.Where(nil, isOdd), l), all([]int{1, 3}, []int(nil), []int(nil), []int{1, 2, 3}))
 	var spans []api.Span
 	for _, i := range []int{0, 1, 3, 7, 8} {
 		spans = common.Widened(spans, i)

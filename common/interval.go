@@ -16,6 +16,9 @@ func CheckInterval(x api.Interval, low, high int) api.Errno {
 		Failed(ends != ordered, api.ErrOrder))
 }
 
+// Within reports whether a number lies in an interval.
+func Within(n int, x api.Interval) bool { return x.Low <= n && n <= x.High }
+
 // Exactly returns the interval of one number.
 func Exactly(n int) api.Interval { return api.Interval{Low: n, High: n} }
 

@@ -11,6 +11,17 @@ func Mapped[A, B any](l []A, f func(A) B) []B {
 	return out
 }
 
+// Where returns the elements of a list that a function holds for.
+func Where[T any](l []T, holds func(T) bool) []T {
+	var out []T
+	for _, x := range l {
+		if holds(x) {
+			out = append(out, x)
+		}
+	}
+	return out
+}
+
 // Widened returns ascending spans with one index more at their end; spans that touch are one span.
 func Widened(l []api.Span, i int) []api.Span {
 	if n := len(l); n > 0 && l[n-1].To == i {
