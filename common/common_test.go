@@ -57,6 +57,16 @@ func TestDistinct(t *testing.T) {
 	same(t, "Distinct of another list", all(common.Distinct(isName)("a")), all(api.OK))
 }
 
+func TestIndices(t *testing.T) {
+	name := func(x [2]string) string { return x[1] }
+	for _, x := range []struct {
+		l    [][2]string
+		want map[string]int
+	}{{nil, map[string]int{}}, {[][2]string{{"x", "b"}, {"b", "a"}, {"x", ""}}, map[string]int{"b": 0, "a": 1, "": 2}}} {
+		same(t, "Indices", all(common.Indices(x.l, name)), all(x.want))
+	}
+}
+
 func interval(low, high int) api.Interval { return api.Interval{Low: low, High: high} }
 
 func TestCheckInterval(t *testing.T) {
@@ -164,6 +174,37 @@ func TestIntegers(t *testing.T) {
 			x.n = 0
 		}
 		same(t, "Count", all(x.word, n, is), all(x.word, x.n, x.isCount))
+	}
+}
+
+func TestTakenIntegers(t *testing.T) {
+	taken := func(read func(n int, take func() string) ([]int, bool), s string, n int) []any {
+		left := strings.Fields(s)
+		l, are := read(n, func() string {
+			if len(left) == 0 {
+				return ""
+			}
+			word := left[0]
+			left = left[1:]
+			return word
+		})
+		return all(l, are, left)
+	}
+	for _, x := range []struct {
+		s                   string
+		n                   int
+		l                   []int
+		areCounts, areWords bool
+		left                []string
+	}{
+		{"1 22 3", 2, []int{1, 22}, true, true, []string{"3"}}, {"", 0, nil, true, true, nil}, {"7", 0, nil, true, true, []string{"7"}},
+		{"5", 2, []int{5, 0}, false, false, nil}, {"a 5", 2, []int{0, 5}, false, false, nil}, {"5 a", 2, []int{5, 0}, false, false, nil}, {"5 -6", 2, []int{5, -6}, false, true, nil}, {"-6 5", 2, []int{-6, 5}, false, true, nil},
+	} {
+		same(t, "Integers", all(x.s, taken(common.Integers, x.s, x.n)), all(x.s, all(x.l, x.areWords, x.left)))
+		for i := range x.l {
+			x.l[i] = max(0, x.l[i])
+		}
+		same(t, "Counts", all(x.s, taken(common.Counts, x.s, x.n)), all(x.s, all(x.l, x.areCounts, x.left)))
 	}
 }
 

@@ -85,10 +85,16 @@ func (w *Words) Next() string {
 func (w *Words) Left() int { return len(w.left) }
 
 // Integers takes n words, and returns their integers, and whether all of them are integers.
-func Integers(n int, take func() string) ([]int, bool) {
+func Integers(n int, take func() string) ([]int, bool) { return taken(n, take, Integer) }
+
+// Counts takes n words, and returns their integers, and whether all of them are integers without a minus sign.
+func Counts(n int, take func() string) ([]int, bool) { return taken(n, take, Count) }
+
+// taken takes n words, and returns what is read of them, and whether all of them can be read.
+func taken(n int, take func() string, read func(word string) (int, bool)) ([]int, bool) {
 	l, all := make([]int, n), true
 	for i := range n {
-		x, is := Integer(take())
+		x, is := read(take())
 		l[i], all = x, all && is
 	}
 	return l, all

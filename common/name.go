@@ -11,3 +11,12 @@ func Distinct(isName func(s string) bool) func(name string) api.Errno {
 		return First(Failed(!isName(name), api.ErrName), Failed(isTaken, api.ErrTwice))
 	}
 }
+
+// Indices returns the index of each element of a list by its name. No two of them have the same one.
+func Indices[T any](l []T, name func(T) string) map[string]int {
+	indices := map[string]int{}
+	for i, x := range l {
+		indices[name(x)] = i
+	}
+	return indices
+}
