@@ -10,8 +10,7 @@ import (
 // CheckNetwork returns the first error of ports and a network, or OK.
 func CheckNetwork(ports []complex128, network []Coupler) api.Errno {
 	return common.First(
-		common.Failed(len(ports) == 0, api.ErrEmpty),
-		common.CheckList(ports, MaxAerials, func(x complex128) api.Errno { return checkNumber(x, MaxFeed) }),
+		common.CheckSome(ports, MaxAerials, func(x complex128) api.Errno { return checkNumber(x, MaxFeed) }),
 		common.CheckList(network, MaxCouplers, func(c Coupler) api.Errno { return checkCoupler(c, len(ports)) }))
 }
 

@@ -29,9 +29,7 @@ func checkBox(b Box) api.Errno {
 }
 
 // checkTicks returns the error of a span of ticks, or OK.
-func checkTicks(s api.Span) api.Errno {
-	return common.Failed(s.From < 0 || s.To <= s.From || s.To > api.MaxTick, api.ErrSpan)
-}
+func checkTicks(s api.Span) api.Errno { return common.CheckSpan(s, api.MaxTick) }
 
 // checkTick returns the error of a tick, or OK.
 func checkTick(tick int) api.Errno { return common.Between(tick, 0, api.MaxTick) }
@@ -80,9 +78,7 @@ func checkHolds(l []Hold) api.Errno {
 // CheckFlights returns the first error of flights, or OK.
 func CheckFlights(l []Flight) api.Errno {
 	checkName := common.Distinct(record.IsName)
-	return common.First(
-		common.Failed(len(l) == 0, api.ErrEmpty),
-		common.CheckList(l, api.MaxExact, func(f Flight) api.Errno {
-			return common.First(checkName(f.Name), common.Between(f.Kind, 0, MaxKind), checkTick(f.Ready))
-		}))
+	return common.CheckSome(l, api.MaxExact, func(f Flight) api.Errno {
+		return common.First(checkName(f.Name), common.Between(f.Kind, 0, MaxKind), checkTick(f.Ready))
+	})
 }

@@ -2,7 +2,6 @@ package area
 
 import (
 	"cmp"
-	"iter"
 	"slices"
 
 	"glideslope/api"
@@ -115,40 +114,6 @@ func Delay(l []Flight, table [3][3]int, order []int) (int, api.Errno) {
 	return delayOf(inOrder(l, order), table), api.OK
 }
 
-// following returns the order that follows one, compared index by index, and whether there is one.
-func following(order []int) ([]int, bool) {
-	next := make([]int, len(order))
-	copy(next, order)
-	last := len(next) - 1
-	i := last - 1
-	for i >= 0 && next[i] > next[i+1] {
-		i--
-	}
-	if i < 0 {
-		return nil, false
-	}
-	j := last
-	for next[j] < next[i] {
-		j--
-	}
-	next[i], next[j] = next[j], next[i]
-	slices.Reverse(next[i+1:])
-	return next, true
-}
-
-// orders visits all orders of n flights, compared index by index.
-func orders(n int) iter.Seq[[]int] {
-	return func(yield func([]int) bool) {
-		order, is := make([]int, n), true
-		for i := range n {
-			order[i] = i
-		}
-		for is && yield(order) {
-			order, is = following(order)
-		}
-	}
-}
-
 // Best returns the best order, and its delay.
 func Best(l []Flight, table [3][3]int) ([]int, int, api.Errno) {
 	if e := common.First(CheckFlights(l), CheckSpacing(table)); e != api.OK {
@@ -156,7 +121,7 @@ func Best(l []Flight, table [3][3]int) ([]int, int, api.Errno) {
 	}
 	var best []int
 	delay := 0
-	for order := range orders(len(l)) {
+	for order := range common.Orders(len(l)) {
 		d := delayOf(inOrder(l, order), table)
 		if best == nil || d < delay {
 			best, delay = order, d

@@ -38,3 +38,18 @@ func CheckList[T any](l []T, most int, check func(T) api.Errno) api.Errno {
 	}
 	return First(Mapped(l, check)...)
 }
+
+// CheckSome returns ErrEmpty if a list has no elements, or the error of CheckList, or OK.
+func CheckSome[T any](l []T, most int, check func(T) api.Errno) api.Errno {
+	return First(Failed(len(l) == 0, api.ErrEmpty), CheckList(l, most, check))
+}
+
+// Once returns a check of the elements of a list, to be called with one after the other: it returns ErrTwice for one that it was called with before, or OK.
+func Once[T comparable]() func(x T) api.Errno {
+	taken := map[T]bool{}
+	return func(x T) api.Errno {
+		isTaken := taken[x]
+		taken[x] = true
+		return Failed(isTaken, api.ErrTwice)
+	}
+}

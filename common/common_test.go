@@ -3,6 +3,7 @@ package common_test
 import (
 	"fmt"
 	"math"
+	"slices"
 	"strings"
 	"testing"
 
@@ -37,6 +38,27 @@ func TestCheckList(t *testing.T) {
 	}{{nil, api.OK}, {[]int{0, 0, 0}, api.OK}, {[]int{0, 0, 0, 0}, api.ErrMany}, {[]int{9, 0, 0, 0}, api.ErrMany}, {[]int{0, 7, 3}, api.ErrNone}} {
 		same(t, "CheckList", all(i, common.CheckList(x.l, 3, check)), all(i, x.e))
 	}
+}
+
+func TestCheckSome(t *testing.T) {
+	check := func(n int) api.Errno { return api.Errno(n) }
+	for i, x := range []struct {
+		l []int
+		e api.Errno
+	}{{nil, api.ErrEmpty}, {[]int{}, api.ErrEmpty}, {[]int{0}, api.OK}, {[]int{0, 0, 0}, api.OK}, {[]int{9, 0, 0, 0}, api.ErrMany}, {[]int{0, 7, 3}, api.ErrNone}} {
+		same(t, "CheckSome", all(i, common.CheckSome(x.l, 3, check)), all(i, x.e))
+	}
+}
+
+func TestOnce(t *testing.T) {
+	once, other := common.Once[int](), common.Once[int]()
+	for i, x := range []struct {
+		n int
+		e api.Errno
+	}{{3, api.OK}, {0, api.OK}, {3, api.ErrTwice}, {-3, api.OK}, {3, api.ErrTwice}, {0, api.ErrTwice}} {
+		same(t, "Once", all(i, once(x.n)), all(i, x.e))
+	}
+	same(t, "Once of another list", all(other(3), other(3)), all(api.OK, api.ErrTwice))
 }
 
 func TestCheckIndex(t *testing.T) {
@@ -81,6 +103,15 @@ func TestCheckInterval(t *testing.T) {
 	}
 }
 
+func TestCheckSpan(t *testing.T) {
+	for x, want := range map[api.Span]api.Errno{
+		{From: 0, To: 1}: api.OK, {From: 0, To: 9}: api.OK, {From: 8, To: 9}: api.OK,
+		{From: 0, To: 0}: api.ErrSpan, {From: 5, To: 4}: api.ErrSpan, {From: 9, To: 9}: api.ErrSpan, {From: -1, To: 5}: api.ErrSpan, {From: 0, To: 10}: api.ErrSpan, {From: 9, To: 10}: api.ErrSpan, {From: math.MinInt, To: math.MaxInt}: api.ErrSpan, {From: math.MaxInt, To: math.MinInt}: api.ErrSpan,
+	} {
+		same(t, "CheckSpan", all(x, common.CheckSpan(x, 9)), all(x, want))
+	}
+}
+
 func TestIntervals(t *testing.T) {
 	for n, is := range map[int]bool{-3: false, -2: true, 0: true, 5: true, 6: false, math.MinInt: false, math.MaxInt: false} {
 		same(t, "Within", all(n, common.Within(n, interval(-2, 5)), common.Within(n, interval(n, n)), common.Within(n, interval(5, -2))), all(n, is, true, false))
@@ -93,12 +124,20 @@ func TestIntervals(t *testing.T) {
 			if x.Low > x.High || y.Low > y.High {
 				continue
 			}
-			var sums, products, squares []int
+			var sums, products, squares, shared []int
 			for i := x.Low; i <= x.High; i++ {
 				squares = append(squares, i*i)
 				for j := y.Low; j <= y.High; j++ {
 					sums, products = append(sums, i+j), append(products, i*j)
+					if i == j {
+						shared = append(shared, i)
+					}
 				}
+			}
+			if both := common.Shared(x, y); len(shared) == 0 {
+				same(t, "Shared", all(x, y, both.Low > both.High), all(x, y, true))
+			} else {
+				same(t, "Shared", all(x, y, both), all(x, y, common.Reach(shared...)))
 			}
 			same(t, "Sums, Products, Squares", all(x, y, common.Sums(x, y), common.Products(x, y), common.Squares(x)), all(x, y, common.Reach(sums...), common.Reach(products...), common.Reach(squares...)))
 		}
@@ -118,6 +157,25 @@ func TestLists(t *testing.T) {
 	same(t, "Widened", all(spans), all(want))
 	same(t, "SpansWhere", all(common.SpansWhere([]byte("xx-x---xx"), func(b byte) bool { return b == 'x' })), all(want))
 	same(t, "SpansWhere of none", all(common.SpansWhere([]byte("---"), func(b byte) bool { return b == 'x' })), all([]api.Span(nil)))
+}
+
+func TestOrders(t *testing.T) {
+	for n, want := range []string{"[[]]", "[[0]]", "[[0 1] [1 0]]", "[[0 1 2] [0 2 1] [1 0 2] [1 2 0] [2 0 1] [2 1 0]]"} {
+		same(t, "Orders", all(n, fmt.Sprint(slices.Collect(common.Orders(n)))), all(n, want))
+	}
+	// each one comes after the one before it, and has all indices
+	var before []int
+	count := 0
+	for order := range common.Orders(7) {
+		same(t, "Orders", all(order, slices.Compare(before, order), slices.Sorted(slices.Values(order))), all(order, -1, []int{0, 1, 2, 3, 4, 5, 6}))
+		before = order
+		count++
+	}
+	same(t, "Orders", all(count), all(5040))
+	for order := range common.Orders(3) {
+		same(t, "Orders, stopped", all(order), all([]int{0, 1, 2}))
+		break
+	}
 }
 
 func TestRatios(t *testing.T) {

@@ -16,6 +16,11 @@ func CheckInterval(x api.Interval, low, high int) api.Errno {
 		Failed(ends != ordered, api.ErrOrder))
 }
 
+// CheckSpan returns ErrSpan if a span is empty, begins below 0 or ends above a limit, or OK.
+func CheckSpan(s api.Span, most int) api.Errno {
+	return Failed(s.From < 0 || s.To <= s.From || s.To > most, api.ErrSpan)
+}
+
 // Within reports whether a number lies in an interval.
 func Within(n int, x api.Interval) bool { return x.Low <= n && n <= x.High }
 
@@ -24,6 +29,11 @@ func Exactly(n int) api.Interval { return api.Interval{Low: n, High: n} }
 
 // Reach returns the interval from the least to the greatest number.
 func Reach(l ...int) api.Interval { return api.Interval{Low: slices.Min(l), High: slices.Max(l)} }
+
+// Shared returns the interval of the numbers that two intervals have in common. Its Low is above its High if there are none.
+func Shared(a, b api.Interval) api.Interval {
+	return api.Interval{Low: max(a.Low, b.Low), High: min(a.High, b.High)}
+}
 
 // Sums returns the interval of the sums of numbers of two intervals.
 func Sums(a, b api.Interval) api.Interval {

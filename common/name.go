@@ -4,11 +4,9 @@ import "glideslope/api"
 
 // Distinct returns a check of the names of a list, to be called with one after the other: it returns ErrName for a string that is not a name, ErrTwice for one that it was called with before, or OK.
 func Distinct(isName func(s string) bool) func(name string) api.Errno {
-	taken := map[string]bool{}
+	once := Once[string]()
 	return func(name string) api.Errno {
-		isTaken := taken[name]
-		taken[name] = true
-		return First(Failed(!isName(name), api.ErrName), Failed(isTaken, api.ErrTwice))
+		return First(Failed(!isName(name), api.ErrName), once(name))
 	}
 }
 

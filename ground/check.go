@@ -19,11 +19,7 @@ func checkPlace(v api.Vector) api.Errno {
 }
 
 // checkMarks returns the error of the marks of an approach, or OK.
-func checkMarks(l []api.Vector) api.Errno {
-	return common.First(
-		common.Failed(len(l) == 0, api.ErrEmpty),
-		common.CheckList(l, MaxMarks, checkPlace))
-}
+func checkMarks(l []api.Vector) api.Errno { return common.CheckSome(l, MaxMarks, checkPlace) }
 
 // checkFactor returns the error of the interval of a factor, or OK.
 func checkFactor(x api.Interval) api.Errno { return common.CheckInterval(x, 0, Whole) }
@@ -53,8 +49,7 @@ func checkPlates(l []Plate) api.Errno { return common.CheckList(l, MaxPlates, ch
 // CheckScene returns the first error of a scene, or OK.
 func CheckScene(x Scene) api.Errno {
 	return common.First(
-		common.Failed(len(x.Sources) == 0, api.ErrEmpty),
-		common.CheckList(x.Sources, MaxSources, checkSource),
+		common.CheckSome(x.Sources, MaxSources, checkSource),
 		checkLayers(x.Layers),
 		checkPlates(x.Plates))
 }

@@ -36,8 +36,7 @@ func checkNeedles(l []int, needles int) api.Errno {
 func CheckPlant(p Plant) api.Errno {
 	checkName := common.Distinct(record.IsName)
 	return common.First(
-		common.Failed(len(p.Sensors) == 0, api.ErrEmpty),
-		common.CheckList(p.Sensors, MaxSensors, func(x Sensor) api.Errno {
+		common.CheckSome(p.Sensors, MaxSensors, func(x Sensor) api.Errno {
 			return common.First(checkName(x.Name), checkKind(x.Kind), checkLimits(x.Limits), common.Between(x.Delay, 1, MaxDelay))
 		}),
 		common.Between(p.Need, 1, len(p.Sensors)),

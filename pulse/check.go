@@ -65,9 +65,7 @@ func checkPlace(place int) api.Errno { return common.Between(place, -MaxPlace, M
 
 // checkKeys returns the error of keys, or OK.
 func checkKeys(l []int) api.Errno {
-	return common.First(
-		common.Failed(len(l) == 0, api.ErrEmpty),
-		common.CheckList(l, MaxKeys, func(ticks int) api.Errno { return common.Between(ticks, 1, MaxGap) }))
+	return common.CheckSome(l, MaxKeys, func(ticks int) api.Errno { return common.Between(ticks, 1, MaxGap) })
 }
 
 // CheckMarkers returns the first error of markers, or OK.
@@ -84,8 +82,4 @@ func CheckMarkers(l []Marker) api.Errno {
 }
 
 // checkWay returns the error of a way, or OK.
-func checkWay(way []int) api.Errno {
-	return common.First(
-		common.Failed(len(way) == 0, api.ErrEmpty),
-		common.CheckList(way, MaxWay, checkPlace))
-}
+func checkWay(way []int) api.Errno { return common.CheckSome(way, MaxWay, checkPlace) }

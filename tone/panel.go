@@ -87,8 +87,7 @@ func Received(p [4]complex64) (Signal, api.Gauss, api.Errno) {
 
 // Averaged returns the signal of the averaged panels, and what is left.
 func Averaged(l [][4]complex64) (Signal, api.Gauss, api.Errno) {
-	e := common.First(common.Failed(len(l) == 0, api.ErrEmpty), common.CheckList(l, MaxPanels, checkPanel))
-	if e != api.OK {
+	if e := common.CheckSome(l, MaxPanels, checkPanel); e != api.OK {
 		return Signal{}, api.Gauss{}, e
 	}
 	q, isWhole := sumOf(l...).over(len(l))
