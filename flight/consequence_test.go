@@ -33,9 +33,12 @@ func TestPlaceIsMet(t *testing.T) {
 		for _, f := range l {
 			same(t, "Meet", all(l, holds(f.Box[0], b[0]) && holds(f.Box[1], b[1]) && holds(f.Box[2], b[2])), all(l, true))
 		}
-		// without one that is elsewhere all others meet
-		if odd := r.below(len(l)); len(l) >= 3 {
+		// without one that is elsewhere all others meet; of two each one is elsewhere
+		if odd := r.below(len(l)); len(l) >= 2 {
 			l[odd].Box[r.below(3)] = exactly(1000000 * (1 - 2*r.below(2)))
+			if len(l) == 2 {
+				odd = 0
+			}
 			i, e := flight.Odd(l)
 			same(t, "Odd", all(l, i, e), all(l, odd, api.OK))
 		}

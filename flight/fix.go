@@ -42,11 +42,10 @@ func Meet(l []Fix) ([3]api.Interval, api.Errno) {
 	return b, api.OK
 }
 
-// isOdd reports whether all fixes but the one with an index meet. Of two fixes that conflict neither is the odd one: a single other one is no evidence.
+// isOdd reports whether all fixes but the one with an index meet: a single other one meets in its own box.
 func isOdd(l []Fix, i int) bool {
-	others := slices.Concat(l[:i], l[i+1:])
-	_, meet := met(others)
-	return meet && len(others) >= 2
+	_, meet := met(slices.Concat(l[:i], l[i+1:]))
+	return meet
 }
 
 // Odd returns the index of the odd one of fixes that conflict.

@@ -43,8 +43,10 @@ func TestOdd(t *testing.T) {
 		{conflict1, 1, api.OK}, {fixes1, 0, api.ErrEmpty}, {fixes1[:1], 0, api.ErrEmpty}, {manyFixes(8), 0, api.ErrEmpty}, // the chapter's example
 		{[]flight.Fix{a, b, c}, 2, api.OK}, {[]flight.Fix{a, c, b}, 1, api.OK}, {[]flight.Fix{c, a, b}, 0, api.OK}, {[]flight.Fix{a, c, d}, 0, api.OK},
 		{[]flight.Fix{a, b, c, d}, 0, api.ErrNone}, {[]flight.Fix{a, fix("f", 10, 11, 0, 0, 0, 0), c}, 0, api.ErrNone},
-		// of two that conflict one other is left, which meets nobody
-		{[]flight.Fix{a, c}, 0, api.ErrNone}, {[]flight.Fix{c, a}, 0, api.ErrNone},
+		// of two that conflict the first one is odd: the other one meets in its own box
+		{[]flight.Fix{a, c}, 0, api.OK}, {[]flight.Fix{c, a}, 0, api.OK}, {[]flight.Fix{fixes1[1], conflict1[2]}, 0, api.OK}, {[]flight.Fix{conflict1[2], fixes1[1]}, 0, api.OK}, {[]flight.Fix{fix("f", 0, 0, 0, 0, 0, 0), fix("f1", 1, 1, 0, 0, 0, 0)}, 0, api.OK},
+		// of three boxes apart from each other none can be left out
+		{[]flight.Fix{fix("a", 0, 0, 0, 0, 0, 0), fix("b", 1, 1, 0, 0, 0, 0), fix("c", 2, 2, 0, 0, 0, 0)}, 0, api.ErrNone},
 		// several could be left out: the first one is
 		{[]flight.Fix{fix("e", 0, 9, 0, 0, 0, 0), a, fix("f", 8, 9, 0, 0, 0, 0)}, 1, api.OK}, {[]flight.Fix{a, fix("f", 8, 9, 0, 0, 0, 0), fix("e", 0, 9, 0, 0, 0, 0)}, 0, api.OK},
 		// by different intervals of the box

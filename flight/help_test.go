@@ -381,9 +381,6 @@ func oddOf(l []flight.Fix) []any {
 	if _, meet := meetOf(l); meet {
 		return all(0, api.ErrEmpty)
 	}
-	if len(l) == 2 {
-		return all(0, api.ErrNone)
-	}
 	for i := range l {
 		if _, meet := meetOf(slices.Delete(slices.Clone(l), i, i+1)); meet {
 			return all(i, api.OK)
