@@ -1,4 +1,4 @@
-// Package common has what all layers need: the choice of the first error, lists, spans, intervals, ratios, complex integers, and lines of words.
+// Package common has what all layers need: the choice of the first error, lists, sets, spans, intervals, ratios, complex integers, and lines of words.
 package common
 
 import "glideslope/api"
@@ -51,5 +51,14 @@ func Once[T comparable]() func(x T) api.Errno {
 		isTaken := taken[x]
 		taken[x] = true
 		return Failed(isTaken, api.ErrTwice)
+	}
+}
+
+// Ascending returns a check of the numbers of a list, to be called with one after the other: it returns ErrOrder for one that is not above the one before it, or OK. Before the first one there is a number that it has to be above, too.
+func Ascending(before int) func(n int) api.Errno {
+	return func(n int) api.Errno {
+		isAbove := n > before
+		before = n
+		return Failed(!isAbove, api.ErrOrder)
 	}
 }

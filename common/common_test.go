@@ -1,6 +1,7 @@
 package common_test
 
 import (
+	"cmp"
 	"fmt"
 	"math"
 	"slices"
@@ -61,6 +62,17 @@ func TestOnce(t *testing.T) {
 	same(t, "Once of another list", all(other(3), other(3)), all(api.OK, api.ErrTwice))
 }
 
+func TestAscending(t *testing.T) {
+	ascending, other := common.Ascending(-3), common.Ascending(-3)
+	for i, x := range []struct {
+		n int
+		e api.Errno
+	}{{-2, api.OK}, {5, api.OK}, {5, api.ErrOrder}, {6, api.OK}, {4, api.ErrOrder}, {5, api.OK}, {math.MinInt, api.ErrOrder}, {math.MaxInt, api.OK}} { // by the number before, whether it had an error or not
+		same(t, "Ascending", all(i, ascending(x.n)), all(i, x.e))
+	}
+	same(t, "Ascending of other lists", all(other(-3), common.Ascending(0)(1), common.Ascending(0)(0)), all(api.ErrOrder, api.OK, api.ErrOrder))
+}
+
 func TestCheckIndex(t *testing.T) {
 	for i, want := range map[int]api.Errno{0: api.OK, 2: api.OK, 3: api.ErrUnknown, -1: api.ErrUnknown, math.MinInt: api.ErrUnknown, math.MaxInt: api.ErrUnknown} {
 		same(t, "CheckIndex", all(i, common.CheckIndex(i, 3), common.CheckIndex(i, 0)), all(i, want, api.ErrUnknown))
@@ -87,6 +99,20 @@ func TestIndices(t *testing.T) {
 	}{{nil, map[string]int{}}, {[][2]string{{"x", "b"}, {"b", "a"}, {"x", ""}}, map[string]int{"b": 0, "a": 1, "": 2}}} {
 		same(t, "Indices", all(common.Indices(x.l, name)), all(x.want))
 	}
+}
+
+func TestSet(t *testing.T) {
+	// a set stays as it is when another one is made of it
+	s := append(make(common.Set, 0, 8), 1, 4)
+	five, seven := s.With(5), s.With(7)
+	same(t, "With", all(s, five, seven, seven.With(8), common.Set(nil).With(0)), all(common.Set{1, 4}, common.Set{1, 4, 5}, common.Set{1, 4, 7}, common.Set{1, 4, 7, 8}, common.Set{0}))
+	ordered := []common.Set{nil, {0}, {1}, {9}, {0, 1}, {0, 9}, {1, 2}, {0, 1, 2}}
+	for i, a := range ordered {
+		for k, b := range ordered {
+			same(t, "Compare", all(a, b, a.Compare(b)), all(a, b, cmp.Compare(i, k)))
+		}
+	}
+	same(t, "Compare", all(common.Set{}.Compare(nil)), all(0))
 }
 
 func interval(low, high int) api.Interval { return api.Interval{Low: low, High: high} }

@@ -45,14 +45,12 @@ func checkCalibrations(l []Calibration) api.Errno {
 
 // CheckRun returns the first error of a run, or OK.
 func CheckRun(l []Mark) api.Errno {
-	before := -MaxPosition - 1
+	ascending := common.Ascending(-MaxPosition - 1)
 	return common.CheckSome(l, MaxMarks, func(m Mark) api.Errno {
-		e := common.First(
+		return common.First(
 			common.Between(m.Position, -MaxPosition, MaxPosition),
 			checkNeedle(m.Needle),
-			common.Failed(m.Position <= before, api.ErrOrder))
-		before = m.Position
-		return e
+			ascending(m.Position))
 	})
 }
 

@@ -1,28 +1,14 @@
 package monitor
 
 import (
-	"cmp"
 	"slices"
 
 	"glideslope/api"
 	"glideslope/common"
 )
 
-// set is strictly ascending indices of sensors.
-type set []int
-
-// with returns a set with one index more, which is above all others.
-func (s set) with(i int) set {
-	out := make(set, len(s)+1)
-	last := copy(out, s)
-	out[last] = i
-	return out
-}
-
-// compare compares sets in their order.
-func (s set) compare(o set) int {
-	return cmp.Or(cmp.Compare(len(s), len(o)), slices.Compare(s, o))
-}
+// set is the indices of sensors.
+type set = common.Set
 
 // all returns the set of all sensors.
 func (p Plant) all() set {
@@ -37,9 +23,9 @@ func (p Plant) all() set {
 func (p Plant) sets() []set {
 	l := []set{{}}
 	for i := range p.Sensors {
-		l = append(l, common.Mapped(l, func(s set) set { return s.with(i) })...)
+		l = append(l, common.Mapped(l, func(s set) set { return s.With(i) })...)
 	}
-	slices.SortFunc(l, set.compare)
+	slices.SortFunc(l, set.Compare)
 	return l
 }
 

@@ -38,11 +38,9 @@ func checkTick(tick int) api.Errno { return common.Between(tick, 0, api.MaxTick)
 
 // checkTicks returns the error of strictly ascending ticks, of which so many are permitted, or OK.
 func checkTicks(l []int, most int) api.Errno {
-	before := -1
+	ascending := common.Ascending(-1)
 	return common.CheckList(l, most, func(tick int) api.Errno {
-		e := common.First(checkTick(tick), common.Failed(tick <= before, api.ErrOrder))
-		before = tick
-		return e
+		return common.First(checkTick(tick), ascending(tick))
 	})
 }
 
