@@ -185,6 +185,26 @@ func TestLists(t *testing.T) {
 	same(t, "SpansWhere of none", all(common.SpansWhere([]byte("---"), func(b byte) bool { return b == 'x' })), all([]api.Span(nil)))
 }
 
+func TestJoined(t *testing.T) {
+	var spans []api.Span
+	for _, s := range []api.Span{{From: 2, To: 5}, {From: 5, To: 6}, {From: 8, To: 9}, {From: 10, To: 20}, {From: 20, To: 21}} {
+		spans = common.Joined(spans, s)
+	}
+	same(t, "Joined", all(spans), all([]api.Span{{From: 2, To: 6}, {From: 8, To: 9}, {From: 10, To: 21}}))
+}
+
+func TestReasons(t *testing.T) {
+	reasons := []common.Reason[int]{
+		{Word: "odd", Applies: func(n int) bool { return n%2 == 1 }},
+		{Word: "small", Applies: func(n int) bool { return n < 10 }},
+		{Word: "zero", Applies: func(n int) bool { return n == 0 }},
+	}
+	for n, want := range map[int][]string{0: {"small", "zero"}, 3: {"odd", "small"}, 11: {"odd"}, 12: nil} {
+		same(t, "Applying", all(n, common.Applying(reasons, n)), all(n, want))
+	}
+	same(t, "Applying of none", all(common.Applying(nil, 3)), all([]string(nil)))
+}
+
 func TestOrders(t *testing.T) {
 	for n, want := range []string{"[[]]", "[[0]]", "[[0 1] [1 0]]", "[[0 1 2] [0 2 1] [1 0 2] [1 2 0] [2 0 1] [2 1 0]]"} {
 		same(t, "Orders", all(n, fmt.Sprint(slices.Collect(common.Orders(n)))), all(n, want))
@@ -289,6 +309,16 @@ func TestTakenIntegers(t *testing.T) {
 			x.l[i] = max(0, x.l[i])
 		}
 		same(t, "Counts", all(x.s, taken(common.Counts, x.s, x.n)), all(x.s, all(x.l, x.areCounts, x.left)))
+	}
+}
+
+func TestWords(t *testing.T) {
+	for line, want := range map[string][]string{"": {""}, " ": {"", ""}, "a": {"a"}, "a bc 5": {"a", "bc", "5"}, "a  b": {"a", "", "b"}, "a\n b\t": {"a\n", "b\t"}, "b ": {"b", ""}} {
+		w := common.WordsOf(line)
+		for i, word := range want {
+			same(t, "WordsOf", all(line, w.Left(), w.Next()), all(line, len(want)-i, word))
+		}
+		same(t, "Next at the end", all(line, w.Left(), w.Next(), w.Left()), all(line, 0, "", 0))
 	}
 }
 

@@ -25,7 +25,7 @@ func ReadLines(s string, read func(at int, w *Words) bool) (int, api.Errno) {
 	lines := linesOf(s)
 	for i, line := range lines {
 		text, ended := strings.CutSuffix(line, "\n")
-		w := Words{strings.Split(text, " ")}
+		w := WordsOf(text)
 		if !ended || !read(i, &w) || len(w.left) > 0 {
 			return i, api.ErrSyntax
 		}
@@ -70,6 +70,9 @@ func linesOf(s string) []string {
 type Words struct {
 	left []string
 }
+
+// WordsOf returns the words of a line, between which there is one space each.
+func WordsOf(line string) Words { return Words{strings.Split(line, " ")} }
 
 // Next takes the next word, or the empty string, which is no word of any line, if there is none.
 func (w *Words) Next() string {

@@ -22,13 +22,18 @@ func Where[T any](l []T, holds func(T) bool) []T {
 	return out
 }
 
-// Widened returns ascending spans with one index more at their end; spans that touch are one span.
-func Widened(l []api.Span, i int) []api.Span {
-	if n := len(l); n > 0 && l[n-1].To == i {
-		l[n-1].To++
+// Joined returns ascending spans with one more at their end, which is not empty; spans that touch are one span.
+func Joined(l []api.Span, s api.Span) []api.Span {
+	if n := len(l); n > 0 && l[n-1].To == s.From {
+		l[n-1].To = s.To
 		return l
 	}
-	return append(l, api.Span{From: i, To: i + 1})
+	return append(l, s)
+}
+
+// Widened returns ascending spans with one index more at their end; spans that touch are one span.
+func Widened(l []api.Span, i int) []api.Span {
+	return Joined(l, api.Span{From: i, To: i + 1})
 }
 
 // SpansWhere returns the longest spans of successive elements that a function holds for.

@@ -37,17 +37,17 @@ type supply struct {
 }
 
 // lacks returns the reasons for which equipment is not enough.
-func lacks() []reason[supply] {
-	return []reason[supply]{
-		{"signal", func(x supply) bool { return x.Signal < x.needs.Signal }},
-		{"lights", func(x supply) bool { return x.Lights < x.needs.Lights }},
-		{"switch", func(x supply) bool { return x.Switch > x.needs.Switch }},
-		{"standby", func(x supply) bool { return x.needs.Standby && !x.Standby }},
+func lacks() []common.Reason[supply] {
+	return []common.Reason[supply]{
+		{Word: "signal", Applies: func(x supply) bool { return x.Signal < x.needs.Signal }},
+		{Word: "lights", Applies: func(x supply) bool { return x.Lights < x.needs.Lights }},
+		{Word: "switch", Applies: func(x supply) bool { return x.Switch > x.needs.Switch }},
+		{Word: "standby", Applies: func(x supply) bool { return x.needs.Standby && !x.Standby }},
 	}
 }
 
 // lacking returns the words of the reasons for which equipment is not enough.
-func (x supply) lacking() []string { return missing(lacks(), x) }
+func (x supply) lacking() []string { return common.Applying(lacks(), x) }
 
 // isHarder reports whether the category at an index, but the first one, permits no more than the one before it: its minima are not above, and its needs are enough for those of the one before.
 func (r Runway) isHarder(i int) bool {
@@ -61,7 +61,7 @@ func (r Runway) capable(x Equipment) int {
 search:
 	for i := range Categories {
 		for _, lack := range lacks() {
-			if lack.isMissing(supply{x, r.Needs[i]}) {
+			if lack.Applies(supply{x, r.Needs[i]}) {
 				break search
 			}
 		}
@@ -77,15 +77,15 @@ type limited struct {
 }
 
 // limitations returns the reasons for which the limits of a landing are too low.
-func limitations() []reason[limited] {
-	return []reason[limited]{
-		{"aircraft", func(x limited) bool { return x.limits[0] < x.category }},
-		{"crew", func(x limited) bool { return x.limits[1] < x.category }},
+func limitations() []common.Reason[limited] {
+	return []common.Reason[limited]{
+		{Word: "aircraft", Applies: func(x limited) bool { return x.limits[0] < x.category }},
+		{Word: "crew", Applies: func(x limited) bool { return x.limits[1] < x.category }},
 	}
 }
 
 // lacking returns the words of the reasons for which the limits of a landing are too low.
-func (x limited) lacking() []string { return missing(limitations(), x) }
+func (x limited) lacking() []string { return common.Applying(limitations(), x) }
 
 // Needed returns the category that a weather needs.
 func Needed(r Runway, w Weather) (int, api.Errno) {

@@ -8,16 +8,16 @@ import (
 )
 
 // conditions returns the reasons for which a moment is not fit for the last step.
-func conditions() []reason[Moment] {
-	return []reason[Moment]{
-		{"clear", func(m Moment) bool { return !m.Clear }},
-		{"staff", func(m Moment) bool { return !m.Staffed }},
-		{"light", func(m Moment) bool { return !m.Lit }},
+func conditions() []common.Reason[Moment] {
+	return []common.Reason[Moment]{
+		{Word: "clear", Applies: func(m Moment) bool { return !m.Clear }},
+		{Word: "staff", Applies: func(m Moment) bool { return !m.Staffed }},
+		{Word: "light", Applies: func(m Moment) bool { return !m.Lit }},
 	}
 }
 
 // lacking returns the words for the conditions that do not hold at a moment.
-func (m Moment) lacking() []string { return missing(conditions(), m) }
+func (m Moment) lacking() []string { return common.Applying(conditions(), m) }
 
 // isFit reports whether all conditions hold at a moment.
 func (m Moment) isFit() bool { return len(m.lacking()) == 0 }
